@@ -1,0 +1,1 @@
+"""Netkeep: a graph database of stores that are joined by named ties."""

@@ -1,0 +1,128 @@
+"""That all names, parameters and methods of the interface are where the document lists them."""
+
+import ast
+import importlib
+import inspect
+import os
+import unittest
+
+import netkeep
+
+FUNCTIONS = {
+    "words": "is_integer(value) is_count(value) is_letter(value) is_word(value) in_sequence(words)",
+    "answers": """pairs(store,word) counts(store,word) answer(store,word,telling) walk(store,word,start,end)
+        is_walk(store,word,value) many_walks(store,word,start,end) is_relation(nodes,value) is_matrix(nodes,value)
+        product(nodes,one,other) back(nodes,one,other) is_within(nodes,one,other) count_product(nodes,one,other)
+        unit(nodes,telling)""",
+    "questions": """asked(store,question) reason(store,question,start,end) is_reason(store,question,start,end,value)
+        denial(store,question,start,end) is_denial(store,question,start,end,value) row_of(signs)""",
+    "within": """reach_behind(question,signs) rounds_behind(question,signs) lies_within(one,other) cover(one,other)
+        is_cover(one,other,value) parting(one,other) is_parting(one,other,value) how_many_triples(one,other)
+        are_alike(one,other) needless(question) pared(question)""",
+    "filled": """obeys(store,rules) wanted(store,rules) filled(store,rules) put_in(store,rules,tie)
+        rounds(store,rules) round_of(store,rules,tie) trace(store,rules,tie) is_trace(store,rules,tie,value)
+        is_denial(store,rules,tie,value) strikes(store,rules,tie) strike_tree(store,rules,tie,number)
+        is_strike_tree(store,rules,tie,number,value)""",
+    "rules": """is_rule(value) leads(rules,word,aim) leads_paper(rules,word,aim) against(rules,word,aim)
+        is_leads_paper(rules,word,aim,value) is_against(rules,word,aim,value) words_from(rules,word)
+        shortest(rules,word) is_implied(rules,rule) needless(rules) fewest_rules(rules) are_alike(rules,others)
+        parting_store(rules,others) is_parting_store(rules,others,value)""",
+    "lots": "kept_of(store,lot,telling) is_kept(lot,nodes,value,telling)",
+}
+METHODS = {
+    ("store", "Store"): """__init__(self,nodes,ties) ties(self) letters(self) goals(self,node,letter)
+        sources(self,node,letter) has(self,tie) put(self,tie) strike(self,tie) renumbered(self,order)
+        beside(self,other) row(word) __add__ __sub__ __invert__ __len__ __contains__ __eq__ __repr__""",
+    ("questions", "Question"): """__init__(self,standings,steps,ends) steps(self) ends(self) goals(self,standing,sign)
+        signs(self) reads(self,signs) trimmed(self) renumbered(self,order) of(signs) __eq__ __repr__""",
+    ("lots", "Lot"): """__init__(self,words) words(self) letters(self) __add__ __sub__ __or__ __and__ __len__
+        __contains__ __iter__ __eq__ __repr__""",
+}
+PROPERTIES = {("store", "Store"): ["nodes"], ("questions", "Question"): ["standings"]}
+VALUES = {("store", "Store"): {"MOST_NODES": 40, "MOST_TIES": 400}, ("questions", "Question"): {"MOST_STANDINGS": 9},
+          ("lots", "Lot"): {"MOST_WORDS": 8}}
+DEFAULTS = {("store", "Store"): {"ties": ()}, ("lots", "Lot"): {"words": ()}}
+FOLDER = os.path.dirname(netkeep.__file__)
+
+
+def sources():
+    """The name and the text of each file of the package."""
+    for name in sorted(os.listdir(FOLDER)):
+        if name != "__pycache__":
+            with open(os.path.join(FOLDER, name), encoding="utf-8", newline="") as file:
+                yield name, file.read()
+
+
+class Interface(unittest.TestCase):
+    def parameters(self, function):
+        return list(inspect.signature(function).parameters)
+
+    def test_functions(self):
+        for name, text in FUNCTIONS.items():
+            module = importlib.import_module(f"netkeep.{name}")
+            for told in text.split():
+                function = getattr(module, told.split("(")[0])
+                self.assertTrue(inspect.isfunction(function), told)
+                self.assertEqual(function.__module__, module.__name__, told)
+                self.assertEqual(self.parameters(function), told[:-1].split("(")[1].split(","), told)
+
+    def test_methods_stand_in_their_classes(self):
+        for (name, known), text in METHODS.items():
+            cls = getattr(importlib.import_module(f"netkeep.{name}"), known)
+            self.assertEqual(cls.__module__, f"netkeep.{name}")
+            for told in text.split():
+                method = told.split("(")[0]
+                self.assertIn(method, vars(cls), told)
+                if "(" in told:
+                    plain = vars(cls)[method]
+                    plain = plain.__func__ if isinstance(plain, staticmethod) else plain
+                    self.assertEqual(self.parameters(plain), told[:-1].split("(")[1].split(","), told)
+
+    def test_static_methods_properties_class_values_and_defaults(self):
+        for (name, known), names in PROPERTIES.items():
+            cls = getattr(importlib.import_module(f"netkeep.{name}"), known)
+            for told in names:
+                self.assertIsInstance(vars(cls)[told], property)
+        for (name, known), values in VALUES.items():
+            cls = getattr(importlib.import_module(f"netkeep.{name}"), known)
+            for told, value in values.items():
+                self.assertEqual(vars(cls)[told], value)
+        for (name, known), values in DEFAULTS.items():
+            cls = getattr(importlib.import_module(f"netkeep.{name}"), known)
+            for told, value in values.items():
+                self.assertEqual(inspect.signature(cls).parameters[told].default, value)
+        for name, known, method in (("store", "Store", "row"), ("questions", "Question", "of")):
+            cls = getattr(importlib.import_module(f"netkeep.{name}"), known)
+            self.assertIsInstance(vars(cls)[method], staticmethod)
+
+
+class Files(unittest.TestCase):
+    def test_only_files_of_python(self):
+        names = [name for name, _ in sources()]
+        self.assertIn("__init__.py", names)
+        self.assertEqual([name for name in names if not name.endswith(".py")], [])
+        self.assertLessEqual(len(names), 100)
+
+    def test_lines_and_characters(self):
+        for name, text in sources():
+            lines = text.split("\n")
+            self.assertLessEqual(len(lines) - 1, 399, name)
+            self.assertLessEqual(max(map(len, lines)), 120, name)
+            self.assertEqual([sign for sign in text if sign != "\n" and not " " <= sign <= "~"], [], name)
+
+    def test_functions_are_small(self):
+        for name, text in sources():
+            for node in ast.walk(ast.parse(text)):
+                if isinstance(node, ast.FunctionDef):
+                    self.assertLessEqual(node.end_lineno - node.lineno + 1, 40, f"{name}: {node.name}")
+
+    def test_imports_come_from_the_package_alone(self):
+        for name, text in sources():
+            for node in ast.walk(ast.parse(text)):
+                self.assertNotIsInstance(node, ast.Import, name)
+                if isinstance(node, ast.ImportFrom):
+                    self.assertTrue(node.module.startswith("netkeep.") and node.level == 0, name)
+
+
+if __name__ == "__main__":
+    unittest.main()
