@@ -12,14 +12,14 @@ class Watch:
     """What becomes of a question's reach, a mask, and of its rounds, a tuple of masks, sign by sign."""
 
     def __init__(self, question):
-        self.many = question.standings
+        self._many = question.standings
         self.end_mask = mask_of(question.ends())
         self._steps = step_rows(question.standings, question.steps())
         self._known = {}
 
     def at_first(self):
         """Reach and rounds behind the empty string."""
-        return 1, tuple([1 << standing for standing in range(self.many)])
+        return 1, tuple([1 << standing for standing in range(self._many)])
 
     def behind(self, reach, rounds, sign):
         """Reach and rounds behind one sign more."""

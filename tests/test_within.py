@@ -339,6 +339,12 @@ class Limits(Case):
         self.is_bool(slow_reads(more, "B") and slow_parts(more, BUSY, "B"), is_parting(more, BUSY, "B"))
 
     def test_a_cover_of_very_many_triples(self):
+        silent = Question(1, [(0, sign, 0) for sign in SIGNS], [])
+        table = cover(silent, BUSY)
+        self.assertEqual((len(table), table), (1301, sorted(set(table))))
+        self.is_bool(True, is_cover(silent, BUSY, table))
+        self.is_bool(False, is_cover(silent, BUSY, table[:700] + table[701:]))
+        self.is_bool(False, is_cover(silent, BUSY, table + table[:1]))
         every = Question(4, BUSY.steps(), [0, 1, 2, 3])
         loop = Question(1, [(0, sign, 0) for sign in SIGNS], [0])
         self.assertEqual(how_many_triples(loop, every), 1301)

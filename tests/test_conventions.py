@@ -1,0 +1,168 @@
+"""Points [2] and [3], as they hold for all functions: bools, tuples for lists, new results, calls by name."""
+
+import copy
+import unittest
+
+from netkeep import answers, filled, lots, questions, rules, within
+from netkeep.lots import Lot
+from netkeep.questions import Question
+from netkeep.store import Store
+from support import Case
+
+STORE = Store(4, [(0, "a", 1), (0, "a", 2), (1, "b", 3), (2, "b", 3), (3, "c", 0)])
+QUESTION = Question(3, [(0, "a", 1), (1, "A", 0), (1, "b", 2)], [2])
+LOT = Lot(["ab", "b"])
+TURNS = [("ab", "d"), ("dc", "a")]
+SMALL = Question(2, [(0, "a", 1)], [1])
+TIE = (0, "d", 3)
+CALLS = [
+    (answers.pairs, {"store": STORE, "word": "ab"}),
+    (answers.counts, {"store": STORE, "word": "ab"}),
+    (answers.answer, {"store": STORE, "word": "ab", "telling": "many"}),
+    (answers.walk, {"store": STORE, "word": "ab", "start": 0, "end": 3}),
+    (answers.is_walk, {"store": STORE, "word": "ab", "value": [0, 1, 3]}),
+    (answers.many_walks, {"store": STORE, "word": "ab", "start": 0, "end": 3}),
+    (answers.is_relation, {"nodes": 2, "value": [(0, 1)]}),
+    (answers.is_matrix, {"nodes": 2, "value": [[0, 1], [1, 0]]}),
+    (answers.product, {"nodes": 2, "one": [(0, 1)], "other": [(1, 0), (1, 1)]}),
+    (answers.back, {"nodes": 2, "one": [(0, 1)], "other": [(1, 0), (1, 1)]}),
+    (answers.is_within, {"nodes": 2, "one": [(0, 1)], "other": [(0, 1), (1, 1)]}),
+    (answers.count_product, {"nodes": 2, "one": [[0, 1], [1, 0]], "other": [[0, 1], [1, 2]]}),
+    (answers.unit, {"nodes": 3, "telling": "many"}),
+    (questions.asked, {"store": STORE, "question": QUESTION}),
+    (questions.reason, {"store": STORE, "question": QUESTION, "start": 0, "end": 3}),
+    (questions.is_reason, {"store": STORE, "question": QUESTION, "start": 0, "end": 3,
+                           "value": [(0, 0), (1, 1), (3, 2)]}),
+    (questions.denial, {"store": STORE, "question": QUESTION, "start": 1, "end": 3}),
+    (questions.is_denial, {"store": STORE, "question": QUESTION, "start": 1, "end": 3, "value": [(1, 0)]}),
+    (questions.row_of, {"signs": "aAb"}),
+    (within.reach_behind, {"question": QUESTION, "signs": "ab"}),
+    (within.rounds_behind, {"question": QUESTION, "signs": "aA"}),
+    (within.lies_within, {"one": QUESTION, "other": QUESTION}),
+    (within.cover, {"one": QUESTION, "other": QUESTION}),
+    (within.is_cover, {"one": SMALL, "other": SMALL, "value": [(0, (0,), ((0, 0), (1, 1))), (1, (1,), ((0, 0), (1, 1)))]}),
+    (within.parting, {"one": QUESTION, "other": SMALL}),
+    (within.is_parting, {"one": QUESTION, "other": SMALL, "value": "ab"}),
+    (within.how_many_triples, {"one": QUESTION, "other": SMALL}),
+    (within.are_alike, {"one": QUESTION, "other": SMALL}),
+    (within.needless, {"question": Question(3, [(0, "a", 1), (0, "a", 2)], [1, 2])}),
+    (within.pared, {"question": QUESTION}),
+    (filled.obeys, {"store": STORE, "rules": TURNS}),
+    (filled.wanted, {"store": STORE, "rules": TURNS}),
+    (filled.filled, {"store": STORE, "rules": TURNS}),
+    (filled.put_in, {"store": STORE, "rules": TURNS, "tie": (3, "b", 1)}),
+    (filled.rounds, {"store": STORE, "rules": TURNS}),
+    (filled.round_of, {"store": STORE, "rules": TURNS, "tie": TIE}),
+    (filled.trace, {"store": STORE, "rules": TURNS, "tie": TIE}),
+    (filled.is_trace, {"store": STORE, "rules": TURNS, "tie": TIE,
+                       "value": [((0, "a", 1), []), ((1, "b", 3), []), (TIE, [0, 1])]}),
+    (filled.is_denial, {"store": STORE, "rules": [], "tie": TIE, "value": STORE}),
+    (filled.strikes, {"store": STORE, "rules": TURNS, "tie": TIE}),
+    (filled.strike_tree, {"store": STORE, "rules": TURNS, "tie": TIE, "number": 1}),
+    (filled.is_strike_tree, {"store": STORE, "rules": TURNS, "tie": TIE, "number": 0,
+                             "value": ([((0, "a", 1), []), ((1, "b", 3), []), (TIE, [0, 1])], {})}),
+    (rules.is_rule, {"value": ("ab", "c")}),
+    (rules.leads, {"rules": TURNS, "word": "abc", "aim": "a"}),
+    (rules.leads_paper, {"rules": TURNS, "word": "abc", "aim": "a"}),
+    (rules.is_leads_paper, {"rules": TURNS, "word": "a", "aim": "a", "value": ([((0, "a", 1), [])], [0])}),
+    (rules.against, {"rules": TURNS, "word": "abc", "aim": "b"}),
+    (rules.is_against, {"rules": TURNS, "word": "a", "aim": "b", "value": (Store.row("a"), (0, 1))}),
+    (rules.words_from, {"rules": TURNS, "word": "abc"}),
+    (rules.shortest, {"rules": TURNS, "word": "abc"}),
+    (rules.is_implied, {"rules": TURNS, "rule": ("abc", "a")}),
+    (rules.needless, {"rules": TURNS}),
+    (rules.fewest_rules, {"rules": TURNS}),
+    (rules.are_alike, {"rules": TURNS, "others": TURNS}),
+    (rules.parting_store, {"rules": TURNS, "others": TURNS[:1]}),
+    (rules.is_parting_store, {"rules": TURNS, "others": TURNS[:1], "value": Store(3, [(0, "d", 1), (1, "c", 2)])}),
+    (lots.kept_of, {"store": STORE, "lot": LOT, "telling": "many"}),
+    (lots.is_kept, {"lot": LOT, "nodes": 1, "value": {"b": [], "ab": []}, "telling": "whether"}),
+]
+LIST_PARAMETERS = ("value", "rules", "others", "one", "other")
+
+
+def spoiled(value):
+    """A value with True and False for each 1 and 0 in it, and whether there were any."""
+    if type(value) is int and value in (0, 1):
+        return bool(value)
+    if type(value) in (list, tuple):
+        return type(value)(spoiled(part) for part in value)
+    if type(value) is dict:
+        return {spoiled(key): spoiled(value[key]) for key in value}
+    return value
+
+
+def as_tuples(value):
+    """A value with tuples for all lists in it."""
+    if type(value) in (list, tuple):
+        return tuple(as_tuples(part) for part in value)
+    if type(value) is dict:
+        return {key: as_tuples(value[key]) for key in value}
+    return value
+
+
+def shown(value):
+    """What a value looks like, kinds of values included."""
+    return repr(value)
+
+
+def containers(value):
+    """All lists and dicts in a value."""
+    if type(value) in (list, dict):
+        yield value
+    parts = value.values() if type(value) is dict else value if type(value) in (list, tuple) else ()
+    for part in parts:
+        yield from containers(part)
+
+
+class Conventions(Case):
+    def test_by_name_and_by_position_and_again(self):
+        for call, told in CALLS:
+            first = shown(call(**told))
+            self.assertEqual(shown(call(*told.values())), first, call)
+            self.assertEqual(shown(call(**told)), first, call)
+
+    def test_judges_accept_the_papers_above(self):
+        for call, told in CALLS:
+            if "value" in told:
+                self.is_bool(True, call(**told))
+
+    def test_nothing_that_is_passed_is_changed(self):
+        for call, told in CALLS:
+            before = shown(copy.deepcopy(told))
+            call(**told)
+            self.assertEqual(shown(told), before, call)
+
+    def test_tuples_for_lists(self):
+        for call, told in CALLS:
+            some = {name: as_tuples(value) if name in LIST_PARAMETERS else value for name, value in told.items()}
+            self.assertEqual(shown(call(**some)), shown(call(**told)), call)
+
+    def test_true_and_false_are_no_integers(self):
+        for call, told in CALLS:
+            for name, value in told.items():
+                if shown(spoiled(value)) == shown(value):
+                    continue
+                some = {**told, name: spoiled(value)}
+                if name == "value":
+                    self.is_bool(False, call(**some))
+                else:
+                    with self.assertRaises(ValueError):
+                        call(**some)
+
+    def test_results_are_new(self):
+        for call, told in CALLS:
+            first, second = call(**told), call(**told)
+            old = {id(part) for part in containers(first)} | {id(part) for part in containers(list(told.values()))}
+            for part in containers(second):
+                self.assertNotIn(id(part), old, call)
+            if call is not filled.strike_tree:
+                self.assertEqual(len({id(part) for part in containers(first)}), len(list(containers(first))), call)
+
+    def test_words_of_the_same_length_as_python_compares_them(self):
+        self.assertEqual(Lot(["ba", "c", "ab"]).words(), ["c", "ab", "ba"])
+        self.assertEqual(Question(2, [(0, "a", 1), (0, "B", 1)], [1]).signs(), "Ba")
+
+
+if __name__ == "__main__":
+    unittest.main()
