@@ -1,7 +1,7 @@
 """Stores filled by rules: what is wanted, what comes in with which round, and what can be struck."""
 
 from netkeep.checks import need_tie
-from netkeep.errors import InvalidNumber, TooMany
+from netkeep.errors import InvalidNumber
 from netkeep.filling import Filling, filling_of, need_few, need_rules, trace_in
 from netkeep.store import Store
 from netkeep.ties import is_below
@@ -23,10 +23,7 @@ def wanted(store, rules):
 
 def filled(store, rules):
     """The filled store."""
-    ties = list(_filling(store, rules).rounds)
-    if len(ties) > Store.MOST_TIES:
-        raise TooMany("ties", Store.MOST_TIES)
-    return Store(store.nodes, ties)
+    return Store(store.nodes, list(_filling(store, rules).rounds))
 
 
 def put_in(store, rules, tie):

@@ -46,7 +46,7 @@ def is_leads_paper(rules, word, aim, value):
     found = traced(len(word) + 1, Store.row(word).ties(), rules, lines)
     if found is None or not is_list(positions):
         return False
-    if not positions or not all([is_below(position, len(found)) for position in positions]):
+    if not all([is_below(position, len(found)) for position in positions]):
         return False
     ties = [found[position] for position in positions]
     return "".join([letter for _, letter, _ in ties]) == aim and go_on(ties, 0, len(word))

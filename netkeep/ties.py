@@ -27,9 +27,9 @@ def is_pair(value, many):
 
 def is_order(value, many):
     """Whether it is a list of all numbers from 0 on that are less than the number, each once."""
-    if not is_list(value) or len(value) != many:
+    if not is_list(value) or not all([is_below(place, many) for place in value]):
         return False
-    return all([is_below(place, many) for place in value]) and sorted(value) == list(range(many))
+    return sorted(value) == list(range(many))
 
 
 def first_wrong(values, fits):

@@ -13,12 +13,22 @@ class Odd:
     __hash__ = None
 
 
+class Same:
+    """A value that calls itself equal to all others."""
+
+    def __eq__(self, other):
+        return True
+
+    def __hash__(self):
+        return 1
+
+
 def wrong_values():
     """Values of many kinds, new ones at each call."""
     return [
         None, True, False, -1, 41, 10 ** 20, "", "x", "A", "ab ", "\n", b"a", (), [], {}, {"a": 1}, {1},
         [None], [[]], ([],), (0, "a"), (0, "a", 1, 2), [0, "a", 1], (True, "a", 0), (0, "a", True), (0, "ab", 1),
-        (0, 1, 7), ("a", 0, 1), ((0, "a", 1),), Odd(), object, len,
+        (0, 1, 7), ("a", 0, 1), ((0, "a", 1),), Odd(), Same(), object, len,
     ]
 
 

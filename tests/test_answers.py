@@ -11,12 +11,12 @@ from netkeep.errors import (
     InvalidMatrix, InvalidNode, InvalidNodes, InvalidRelation, InvalidTelling, InvalidWord,
 )
 from netkeep.store import Store
-from support import Case, Odd, all_walks, some_store, wrong_values
+from support import Case, Odd, Same, all_walks, some_store, wrong_values
 
 WRONG_WORDS = wrong_values() + ["aaaaaaaaaaaaa", "g", "aB"]
 WRONG_NODES = [0, 41, -1, True, False, None, "3", [3], Odd()]
 WRONG_ENDS = [3, -1, True, False, None, "0", [0], (0,), Odd()]
-WRONG_TELLINGS = ["", "Whether", "how", None, True, 0, [], ["many"], ("many",), Odd()]
+WRONG_TELLINGS = ["", "Whether", "how", None, True, 0, [], ["many"], ("many",), Odd(), Same()]
 FORK = Store(3, [(0, "a", 1), (0, "a", 2), (1, "b", 2), (2, "b", 2)])
 
 

@@ -259,6 +259,12 @@ class Strikes(Case):
         self.assertEqual(strikes(store + tie, CLOSE, tie), None)
         self.assertEqual(strikes(store - (3, "a", 4), CLOSE, tie), [(0, "a", 1)])
 
+    def test_the_least_pair_has_no_tie_of_the_shortest_trace_first(self):
+        # The trace of one round has "c" and "b". Struck may be "b" and "d", "a" and "c", "c" and "d".
+        store = Store(2, [(0, "a", 0), (0, "b", 1), (0, "c", 0), (0, "d", 1)])
+        rules = [("cb", "f"), ("cd", "f"), ("ad", "e"), ("e", "f")]
+        self.assertEqual(strikes(store, rules, (0, "f", 1)), [(0, "a", 0), (0, "c", 0)])
+
     def test_a_pair_that_is_the_same_but_later(self):
         # Two rules tell the tie, and each of the two ties of its trace has another one beside it.
         store = Store(3, [(0, "b", 1), (0, "c", 1), (1, "d", 2), (1, "e", 2)])
@@ -332,6 +338,9 @@ class Strikes(Case):
                          {**branch, (1, "a", 3): [other, {}]}, {**branch, (1, "a", 3): (other,)},
                          [((0, "a", 1), (other, {}))], None, [], ()):
             self.is_bool(False, is_strike_tree(store, CLOSE, tie, 1, (one, branches)))
+        self.is_bool(False, is_strike_tree(store, CLOSE, (0, "a", 1), 0, (one, {})))
+        self.is_bool(False, is_strike_tree(store, CLOSE, (1, "a", 3), 0, (one[:1], {})))
+        self.is_bool(False, is_strike_tree(store, CLOSE, tie, 1, (one, {**good[1], (1, "a", 3): (other[:2], {})})))
         for value in wrong_values() + [[one, good[1]], (one,), good + (0,), (None, good[1]), (one[1:], good[1])]:
             self.is_bool(False, is_strike_tree(store, CLOSE, tie, 1, value))
             self.is_bool(False, is_strike_tree(store, CLOSE, tie, 0, value))

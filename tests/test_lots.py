@@ -126,6 +126,7 @@ class Kept(Case):
         self.assertEqual(kept_of(PATH, Lot(), "many"), {})
         for value in ("", "Many", None, True, ["many"], Odd()):
             self.refuses(InvalidTelling, {"value": value}, kept_of, PATH, self.lot, value)
+            self.refuses(InvalidTelling, {"value": value}, kept_of, PATH, Lot(), value)
 
     def test_nothing_told_is_shared(self):
         kept = kept_of(Store(2), self.lot, "whether")

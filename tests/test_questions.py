@@ -133,6 +133,10 @@ class Looked(Case):
         self.assertEqual(Question(4, [(0, "a", 2), (2, "B", 3)], [3, 1]).trimmed(),
                          Question(3, [(0, "a", 1), (1, "B", 2)], [2]))
 
+    def test_trimmed_keeps_the_sequence(self):
+        question = Question(4, [(0, "a", 3), (0, "b", 1), (1, "c", 3), (3, "d", 1)], [3])
+        self.assertEqual(question.trimmed(), Question(3, [(0, "a", 2), (0, "b", 1), (1, "c", 2), (2, "d", 1)], [2]))
+
     def test_trimmed_keeps_0_with_its_loops(self):
         self.assertEqual(Question(3, [(0, "a", 0), (0, "A", 0), (0, "a", 1), (1, "b", 0)], [2]).trimmed(),
                          Question(1, [(0, "A", 0), (0, "a", 0)], []))

@@ -201,6 +201,15 @@ class Judged(Case):
                                        [first, last, (0, None, ())], [first, last, (0, (0,), None)]]:
             self.is_bool(False, is_cover(ONCE, THRICE, value))
 
+    def test_reach_and_rounds_rise(self):
+        good = cover(ONCE, THRICE)
+        self.is_bool(True, is_cover(ONCE, THRICE, good + [(1, (2, 3), ((0, 0), (0, 1), (2, 1)))]))
+        for reach in ((3, 2), (3, 3), (2, 2, 3), (2, 3, 3), (0, 3, 2), (0, 1, 3, 2)):
+            self.is_bool(False, is_cover(ONCE, THRICE, good + [(1, reach, ())]))
+        for rounds in (((0, 1), (0, 0)), ((1, 0), (0, 1)), ((0, 0), (0, 0)), ((0, 0), (2, 1), (2, 0)),
+                       ((0, 0), (1, 1), (3, 3), (2, 2))):
+            self.is_bool(False, is_cover(ONCE, THRICE, good + [(1, (3,), rounds)]))
+
     def test_covers_with_further_triples(self):
         good = cover(ONCE, THRICE)
         # This one is no end, and its step leads to reach (1, 3) with the rounds of the second triple.
