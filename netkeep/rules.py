@@ -93,12 +93,7 @@ def shortest(rules, word):
     goals = _rows_of(rules, word)
     least = {0: ""}
     while len(word) not in least:
-        further = {}
-        for node in least:
-            for letter in LETTERS:
-                for goal in bits(goals[letter][node]):
-                    further[goal] = min(further.get(goal, least[node] + letter), least[node] + letter)
-        least = further
+        least = _one_letter_on(goals, least)
     return least[len(word)]
 
 
@@ -184,6 +179,16 @@ def _rows_of(rules, word):
 
 def _leads(rules, word, aim):
     return led(_rows_of(rules, word), 1, aim) >> len(word) & 1 == 1
+
+
+def _one_letter_on(goals, least):
+    """For each node that is one letter on from those with a string, the least string that leads there."""
+    further = {}
+    for node in least:
+        for letter in LETTERS:
+            for goal in bits(goals[letter][node]):
+                further[goal] = min(further.get(goal, least[node] + letter), least[node] + letter)
+    return further
 
 
 def _ties_of(ties, last, aim):
