@@ -32,6 +32,11 @@ def is_order(value, many):
     return sorted(value) == list(range(many))
 
 
+def is_rising(values):
+    """Whether each value is greater than the one ahead of it."""
+    return all([value < further for value, further in zip(values, values[1:])])
+
+
 def first_wrong(values, fits):
     """The position of the first value that does not fit, as told for each, or stands ahead; None without one."""
     ahead = {}

@@ -3,7 +3,7 @@
 from netkeep.errors import TooMany
 from netkeep.masks import bits, couples_of, mask_of, rows_of, union
 from netkeep.signs import contrary, step_rows
-from netkeep.ties import is_below, is_pair
+from netkeep.ties import is_below, is_pair, is_rising
 
 MOST_TRIPLES = 2000
 
@@ -141,8 +141,3 @@ def read_triple(value, standings, others):
     if not is_rising(reach) or not is_rising(rounds):
         return None
     return value[0], mask_of(reach), tuple(rows_of(others, rounds))
-
-
-def is_rising(values):
-    """Whether each value is greater than the one ahead of it."""
-    return all([value < further for value, further in zip(values, values[1:])])

@@ -196,3 +196,111 @@ def slow_is_trace(ties, rules, tie, lines):
         if ("".join(one[1] for one in taken), told[1]) not in rules:
             return False
     return bool(lines) and lines[-1][0] == tie
+
+
+def otherwise(value):
+    """The value with one part of it, at any depth, another one, left out, or told twice."""
+    yield from wrong_values()
+    if type(value) in (list, tuple):
+        parts = list(value)
+        made = type(value)
+        for at, part in enumerate(parts):
+            for other in otherwise(part):
+                yield made(parts[:at] + [other] + parts[at + 1:])
+            yield made(parts[:at] + parts[at + 1:])
+            yield made(parts[:at + 1] + parts[at:])
+    elif type(value) is dict:
+        for key, part in value.items():
+            for other in otherwise(part):
+                yield {**value, key: other}
+            yield {one: value[one] for one in value if one != key}
+        for other in (None, True, 0, "x", "a", (), (0, 1), Same(), b"a"):
+            if other not in value:
+                yield {**value, other: next(iter(value.values()), [])}
+    elif type(value) is int:
+        yield from (value + 1, value - 1, -value - 1)
+    elif type(value) is str:
+        yield from (value + "a", value[:-1], value[::-1], "ab", "b", "c", value.upper())
+
+
+def same(one, other):
+    """Whether two values look the same, kinds of values included, tuples for lists allowed."""
+    return repr(one).replace("[", "(").replace("]", ",)") == repr(other).replace("[", "(").replace("]", ",)")
+
+
+def subsets(values):
+    """All lists of some of the values, in their sequence, shorter ones first."""
+    values = list(values)
+    return [list(some) for many in range(len(values) + 1) for some in itertools.combinations(values, many)]
+
+
+def slow_bridges(words, word):
+    """All bridges of a word."""
+    return sorted((i, j, word[i:j]) for i in range(len(word) + 1) for j in range(i + 1, len(word) + 1)
+                  if word[i:j] in words)
+
+
+def slow_settles(words, word):
+    """Whether the words settle the word: by places that grow until none comes to them."""
+    places = {0}
+    while True:
+        more = {q for i, j, _ in slow_bridges(words, word) for p, q in ((i, j), (j, i)) if p in places} - places
+        if not more:
+            return len(word) in places
+        places |= more
+
+
+def slow_is_plan(words, word, value):
+    """Whether a value is a plan, step by step."""
+    if type(value) not in (list, tuple):
+        return False
+    place = 0
+    able = [(i, w, j) for i, j, w in slow_bridges(words, word)] + [(j, w, i) for i, j, w in slow_bridges(words, word)]
+    for step in value:
+        if type(step) is not tuple or [type(part) for part in step] != [int, str, int] or step not in able:
+            return False
+        if step[0] != place:
+            return False
+        place = step[2]
+    return len(value) > 0 and place == len(word)
+
+
+def slow_is_cut(words, word, value):
+    """Whether a value is a cut, bridge by bridge."""
+    if type(value) not in (list, tuple) or any(type(place) is not int for place in value):
+        return False
+    if list(value) != sorted(set(value)) or not set(value) <= set(range(len(word))) or 0 not in value:
+        return False
+    return all((i in value) == (j in value) for i, j, _ in slow_bridges(words, word))
+
+
+def slow_stretches(word, letter):
+    """The unlike stretches of a word: by all of its parts."""
+    found = set()
+    for i in range(len(word) + 1):
+        for j in range(i, len(word) + 1):
+            begins = i == 0 or word[i - 1] == letter
+            ends = j == len(word) or word[j] == letter
+            if begins and ends and (i, j) != (0, len(word)):
+                found.add(word[i:j])
+    return sorted(found, key=lambda part: (len(part), part))
+
+
+def slow_keeps_up(words, letter):
+    """Whether words keep themselves up for a letter."""
+    return all(slow_settles(words, part) for word in words for part in slow_stretches(word, letter))
+
+
+def some_words(rng, many, letters, longest):
+    """Some unlike words, as the random source tells."""
+    found = []
+    while len(found) < many:
+        word = "".join(rng.choice(letters) for _ in range(rng.randint(1, longest)))
+        if word not in found:
+            found.append(word)
+    return found
+
+
+def as_words(words):
+    """What words are sorted by."""
+    return [(len(word), word) for word in words]

@@ -3,7 +3,7 @@
 import copy
 import unittest
 
-from netkeep import answers, filled, lots, questions, rules, within
+from netkeep import answers, filled, lots, plans, questions, rules, secrets, told, twins, upkeep, within
 from netkeep.lots import Lot
 from netkeep.questions import Question
 from netkeep.store import Store
@@ -15,6 +15,11 @@ LOT = Lot(["ab", "b"])
 TURNS = [("ab", "d"), ("dc", "a")]
 SMALL = Question(2, [(0, "a", 1)], [1])
 TIE = (0, "d", 3)
+THREE = Lot(["bc", "b", "ab"])
+APART = upkeep.apart(Lot(["ab"]), "a")
+WHETHER = {"ab": [(0, 0)], "b": [], "bc": [(0, 1)]}
+MANY = {"ab": [[0, 1], [1, 0]], "b": [[0, 1], [1, 0]], "bc": [[0, 1], [0, 0]]}
+PRICES = {"ab": 1, "b": 0}
 CALLS = [
     (answers.pairs, {"store": STORE, "word": "ab"}),
     (answers.counts, {"store": STORE, "word": "ab"}),
@@ -77,8 +82,56 @@ CALLS = [
     (rules.is_parting_store, {"rules": TURNS, "others": TURNS[:1], "value": Store(3, [(0, "d", 1), (1, "c", 2)])}),
     (lots.kept_of, {"store": STORE, "lot": LOT, "telling": "many"}),
     (lots.is_kept, {"lot": LOT, "nodes": 1, "value": {"b": [], "ab": []}, "telling": "whether"}),
+    (plans.bridges, {"lot": THREE, "word": "abc"}),
+    (plans.classes, {"lot": LOT, "word": "abc"}),
+    (plans.steps_at, {"lot": THREE, "word": "abc", "place": 1}),
+    (plans.is_settled, {"lot": THREE, "word": "abc"}),
+    (plans.plan, {"lot": THREE, "word": "abc"}),
+    (plans.is_plan, {"lot": THREE, "word": "abc", "value": [(0, "ab", 2), (2, "b", 1), (1, "bc", 3)]}),
+    (plans.cut, {"lot": LOT, "word": "abc"}),
+    (plans.greatest_cut, {"lot": LOT, "word": "abc"}),
+    (plans.is_cut, {"lot": LOT, "word": "abc", "value": [0, 1, 2]}),
+    (told.told, {"lot": THREE, "word": "abc", "nodes": 2, "kept": MANY, "telling": "many"}),
+    (told.told, {"lot": THREE, "word": "abc", "nodes": 2, "kept": WHETHER, "telling": "whether"}),
+    (told.tables, {"lot": THREE, "word": "abc", "nodes": 2, "kept": WHETHER}),
+    (told.count_paper, {"lot": THREE, "word": "abc", "nodes": 2, "kept": MANY}),
+    (told.is_count_paper, {"lot": THREE, "word": "abc", "nodes": 2, "kept": MANY,
+                           "value": told.count_paper(THREE, "abc", 2, MANY)}),
+    (twins.twins, {"lot": LOT, "word": "abc", "cut": [0, 1, 2]}),
+    (twins.is_parting, {"lot": LOT, "word": "abc", "value": twins.twins(LOT, "abc"), "telling": "many"}),
+    (twins.first_apart, {"one": STORE, "other": Store(4), "word": "a", "telling": "whether"}),
+    (twins.unlike_words, {"lot": LOT, "one": STORE, "other": Store(4), "telling": "whether"}),
+    (upkeep.stretches, {"word": "aab", "letter": "a"}),
+    (upkeep.choices, {"word": "aab", "letter": "a"}),
+    (upkeep.part, {"word": "ab", "places": [0], "tie": (0, "a", 1), "nodes": 2, "telling": "whether",
+                   "answers": {"b": [(0, 1), (1, 1)]}}),
+    (upkeep.part, {"word": "ab", "places": [0], "tie": (0, "a", 1), "nodes": 2, "telling": "many",
+                   "answers": {"b": [[0, 1], [1, 1]]}}),
+    (upkeep.keeps_up, {"lot": LOT, "letter": "a"}),
+    (upkeep.kept_letters, {"lot": LOT}),
+    (upkeep.first_gap, {"lot": LOT, "letter": "b"}),
+    (upkeep.unsettled, {"lot": LOT, "letter": "b"}),
+    (upkeep.plans_paper, {"lot": LOT, "letter": "a"}),
+    (upkeep.is_plans_paper, {"lot": LOT, "letter": "a", "value": {"b": [(0, "b", 1)]}}),
+    (upkeep.behind_put, {"lot": LOT, "nodes": 2, "kept": {"ab": [(0, 1)], "b": [(1, 1)]}, "telling": "whether",
+                         "tie": (0, "a", 1), "done": True}),
+    (upkeep.behind_put, {"lot": LOT, "nodes": 2, "kept": {"ab": [[0, 1], [1, 0]], "b": [[0, 1], [1, 0]]},
+                         "telling": "many", "tie": (0, "a", 1), "done": False}),
+    (upkeep.behind_strike, {"lot": LOT, "nodes": 2, "kept": {"ab": [[1, 1], [1, 0]], "b": [[0, 1], [1, 0]]},
+                            "tie": (0, "a", 1), "done": True}),
+    (upkeep.apart, {"lot": LOT, "letter": "b"}),
+    (upkeep.is_apart, {"lot": Lot(["ab"]), "letter": "a", "telling": "many", "value": APART}),
+    (secrets.gives_away, {"lot": THREE, "secret": "abc"}),
+    (secrets.hidden, {"lot": THREE, "secrets": ["abc", "c"]}),
+    (secrets.is_withholding, {"lot": THREE, "prices": PRICES, "secrets": ["abc"], "value": ["b"]}),
+    (secrets.least_withholdings, {"lot": THREE, "prices": PRICES, "secrets": ["abc"]}),
+    (secrets.cheapest_withholding, {"lot": THREE, "prices": PRICES, "secrets": ["abc"]}),
+    (secrets.price_of_hiding, {"lot": THREE, "prices": PRICES, "secrets": ["abc"]}),
+    (secrets.tree_of_plans, {"lot": THREE, "prices": PRICES, "secrets": ["abc", "ab", "b"], "number": 0}),
+    (secrets.is_tree_of_plans, {"lot": THREE, "prices": PRICES, "secrets": ["abc", "ab", "b"], "number": 0,
+                                "value": (1, [(0, "ab", 2)], [])}),
 ]
-LIST_PARAMETERS = ("value", "rules", "others", "one", "other")
+LIST_PARAMETERS = ("value", "rules", "others", "one", "other", "kept", "places", "answers", "secrets", "cut")
 
 
 def spoiled(value):
@@ -147,8 +200,9 @@ class Conventions(Case):
                 if name == "value":
                     self.is_bool(False, call(**some))
                 else:
-                    with self.assertRaises(ValueError):
-                        call(**some)
+                    if name != "done":
+                        with self.assertRaises(ValueError):
+                            call(**some)
 
     def test_results_are_new(self):
         for call, told in CALLS:

@@ -41,20 +41,45 @@ STAGE_3 = r"""
 >>> [needless(some), fewest_rules(some), filled(net, turns).ties()[:3], shortest(some, "fabb")]
 [[2], [('ab', 'c'), ('cb', 'd')], [(0, 'a', 0), (0, 'a', 1), (0, 'c', 2)], 'fd']
 """
-# Of this example only what speaks of lots and kept answers.
 STAGE_4 = r"""
 >>> from netkeep.lots import Lot, kept_of
+>>> from netkeep.plans import classes, cut, plan
+>>> from netkeep.told import tables, told
+>>> from netkeep.twins import first_apart, is_parting, twins
 >>> from netkeep.store import Store
 >>> lot = Lot(["bc", "b", "ab"])
->>> lot
-Lot(['b', 'ab', 'bc'])
->>> lot - "b"
-Lot(['ab', 'bc'])
+>>> [lot, plan(lot, "abc"), cut(lot, "abc"), cut(lot - "b", "abc"), classes(lot - "b", "abc")]
+[Lot(['b', 'ab', 'bc']), [(0, 'ab', 2), (2, 'b', 1), (1, 'bc', 3)], None, [0, 2], [[0, 2], [1, 3]]]
 >>> path = Store(4, [(0, "a", 1), (1, "b", 2), (2, "c", 3)])
->>> kept_of(path, lot, "whether")
-{'b': [(1, 2)], 'ab': [(0, 2)], 'bc': [(1, 3)]}
->>> kept_of(path, lot, "many")["b"]
-[[0, 0, 0, 0], [0, 0, 1, 0], [0, 0, 0, 0], [0, 0, 0, 0]]
+>>> [told(lot, "abc", 4, kept_of(path, lot, "whether"), "whether"), tables(lot, "abc", 4, kept_of(path, lot, "whether"))[1][:2]]
+[[(0, 3)], [(0, 2)]]
+>>> told(lot, "abc", 4, kept_of(path, lot, "many"), "many")[0]
+[0, 0, 0, 1]
+>>> plain, crossed = twins(lot - "b", "abc")
+>>> [first_apart(plain, crossed, "abc", "many"), is_parting(lot - "b", "abc", (plain, crossed), "many"), plain.nodes]
+[(0, 6), True, 8]
+"""
+UPKEEP = r"""
+>>> from netkeep.answers import pairs
+>>> from netkeep.lots import Lot
+>>> from netkeep.upkeep import apart, behind_put, first_gap, kept_letters, stretches
+>>> [stretches("aab", "a"), kept_letters(Lot(["ab", "b"])), first_gap(Lot(["aab", "b"]), "a")]
+[['', 'a', 'b', 'ab'], 'acdef', ('aab', 0, 1)]
+>>> behind_put(Lot(["ab", "b"]), 3, {"ab": [], "b": [(1, 2)]}, "whether", (0, "a", 1))
+{'b': [(1, 2)], 'ab': [(0, 2)]}
+>>> one, other, tie = apart(Lot(["ab"]), "a")
+>>> [tie, one.ties(), pairs(one + tie, "ab"), pairs(other + tie, "ab")]
+[(4, 'a', 0), [(0, 'b', 2), (1, 'b', 3)], [(4, 2)], [(4, 3)]]
+"""
+# Of this example only what speaks of secrets.
+SECRETS = r"""
+>>> from netkeep.lots import Lot
+>>> from netkeep.secrets import cheapest_withholding, gives_away, is_tree_of_plans, least_withholdings
+>>> asked, worth = Lot(["ab", "b", "bc"]), {"ab": 3, "b": 1, "bc": 2}
+>>> [gives_away(asked, "abc"), cheapest_withholding(asked, worth, ["abc"]), least_withholdings(asked, worth, ["abc"])]
+[True, ['b'], [['b'], ['ab'], ['bc']]]
+>>> is_tree_of_plans(asked, worth, ["abc"], 0, (0, [(0, "ab", 2), (2, "b", 1), (1, "bc", 3)], []))
+True
 """
 
 
@@ -75,8 +100,12 @@ class Examples(unittest.TestCase):
     def test_stage_3(self):
         self.run_example("stage 3", STAGE_3)
 
-    def test_stage_4_as_far_as_lots(self):
+    def test_stage_4(self):
         self.run_example("stage 4", STAGE_4)
+        self.run_example("upkeep", UPKEEP)
+
+    def test_stage_5_as_far_as_secrets(self):
+        self.run_example("secrets", SECRETS)
 
 
 if __name__ == "__main__":

@@ -28,6 +28,20 @@ FUNCTIONS = {
         shortest(rules,word) is_implied(rules,rule) needless(rules) fewest_rules(rules) are_alike(rules,others)
         parting_store(rules,others) is_parting_store(rules,others,value)""",
     "lots": "kept_of(store,lot,telling) is_kept(lot,nodes,value,telling)",
+    "plans": """bridges(lot,word) classes(lot,word) steps_at(lot,word,place) is_settled(lot,word) plan(lot,word)
+        is_plan(lot,word,value) cut(lot,word) greatest_cut(lot,word) is_cut(lot,word,value)""",
+    "told": """told(lot,word,nodes,kept,telling) tables(lot,word,nodes,kept) count_paper(lot,word,nodes,kept)
+        is_count_paper(lot,word,nodes,kept,value)""",
+    "twins": """twins(lot,word,cut=None) is_parting(lot,word,value,telling) first_apart(one,other,word,telling)
+        unlike_words(lot,one,other,telling)""",
+    "upkeep": """stretches(word,letter) choices(word,letter) part(word,places,tie,nodes,telling,answers)
+        keeps_up(lot,letter) kept_letters(lot) first_gap(lot,letter) unsettled(lot,letter) plans_paper(lot,letter)
+        is_plans_paper(lot,letter,value) behind_put(lot,nodes,kept,telling,tie,done=True)
+        behind_strike(lot,nodes,kept,tie,done=True) apart(lot,letter) is_apart(lot,letter,telling,value)""",
+    "secrets": """gives_away(lot,secret) hidden(lot,secrets) is_withholding(lot,prices,secrets,value)
+        least_withholdings(lot,prices,secrets) cheapest_withholding(lot,prices,secrets)
+        price_of_hiding(lot,prices,secrets) tree_of_plans(lot,prices,secrets,number)
+        is_tree_of_plans(lot,prices,secrets,number,value)""",
 }
 METHODS = {
     ("store", "Store"): """__init__(self,nodes,ties) ties(self) letters(self) goals(self,node,letter)
@@ -43,6 +57,7 @@ VALUES = {("store", "Store"): {"MOST_NODES": 40, "MOST_TIES": 400}, ("questions"
           ("lots", "Lot"): {"MOST_WORDS": 8}}
 DEFAULTS = {("store", "Store"): {"ties": ()}, ("lots", "Lot"): {"words": ()}}
 FOLDER = os.path.dirname(netkeep.__file__)
+LIBRARY = {"math": {"gcd"}, "heapq": {"heappop", "heappush"}}
 
 
 def sources():
@@ -53,9 +68,48 @@ def sources():
                 yield name, file.read()
 
 
+CHANGES = {"append", "clear", "extend", "insert", "pop", "remove", "reverse", "setdefault", "update"}
+
+
+def walked(loop):
+    """What a loop walks, as it is written, through zip, enumerate, reversed and views."""
+    if isinstance(loop, (ast.Name, ast.Attribute, ast.Subscript)):
+        return {ast.unparse(loop)}
+    if isinstance(loop, ast.Call) and isinstance(loop.func, ast.Name) and loop.func.id in ("zip", "enumerate", "reversed"):
+        return set().union(*map(walked, loop.args))
+    if isinstance(loop, ast.Call) and isinstance(loop.func, ast.Attribute) and loop.func.attr in ("items", "keys", "values"):
+        return walked(loop.func.value)
+    return set()
+
+
+def other_names(function, names):
+    """The names, and all that plain assignments of the function give these very objects."""
+    names = set(names)
+    for node in list(ast.walk(function)) * 2:
+        if isinstance(node, ast.Assign) and isinstance(node.value, (ast.Name, ast.Attribute, ast.Subscript)):
+            told = {ast.unparse(one) for one in (*node.targets, node.value)}
+            if told & names:
+                names |= told
+    return names
+
+
+def changed_in(loop):
+    """What the rows of a loop change, as it is written."""
+    for node in [node for row in loop.body for node in ast.walk(row)]:
+        if isinstance(node, ast.Subscript) and isinstance(node.ctx, (ast.Store, ast.Del)):
+            yield ast.unparse(node.value)
+        if isinstance(node, ast.Call) and isinstance(node.func, ast.Attribute) and node.func.attr in CHANGES:
+            yield ast.unparse(node.func.value)
+
+
 class Interface(unittest.TestCase):
     def parameters(self, function):
         return list(inspect.signature(function).parameters)
+
+    def told_parameters(self, function):
+        """The parameters with their defaults, as they are written above."""
+        told = inspect.signature(function).parameters.values()
+        return [one.name + ("" if one.default is one.empty else f"={one.default!r}") for one in told]
 
     def test_functions(self):
         for name, text in FUNCTIONS.items():
@@ -64,7 +118,7 @@ class Interface(unittest.TestCase):
                 function = getattr(module, told.split("(")[0])
                 self.assertTrue(inspect.isfunction(function), told)
                 self.assertEqual(function.__module__, module.__name__, told)
-                self.assertEqual(self.parameters(function), told[:-1].split("(")[1].split(","), told)
+                self.assertEqual(self.told_parameters(function), told[:-1].split("(")[1].split(","), told)
 
     def test_methods_stand_in_their_classes(self):
         for (name, known), text in METHODS.items():
@@ -116,12 +170,22 @@ class Files(unittest.TestCase):
                 if isinstance(node, ast.FunctionDef):
                     self.assertLessEqual(node.end_lineno - node.lineno + 1, 40, f"{name}: {node.name}")
 
-    def test_imports_come_from_the_package_alone(self):
+    def test_no_loop_changes_what_it_walks(self):
+        for name, text in sources():
+            for function in ast.walk(ast.parse(text)):
+                if isinstance(function, ast.FunctionDef):
+                    for loop in [node for node in ast.walk(function) if isinstance(node, ast.For)]:
+                        names = other_names(function, walked(loop.iter))
+                        self.assertEqual(names & set(changed_in(loop)), set(), f"{name}: {function.name}")
+
+    def test_imports_come_from_the_package_and_little_else(self):
         for name, text in sources():
             for node in ast.walk(ast.parse(text)):
                 self.assertNotIsInstance(node, ast.Import, name)
+                if isinstance(node, ast.ImportFrom) and not node.module.startswith("netkeep."):
+                    self.assertLessEqual({alias.name for alias in node.names}, LIBRARY.get(node.module, set()), name)
                 if isinstance(node, ast.ImportFrom):
-                    self.assertTrue(node.module.startswith("netkeep.") and node.level == 0, name)
+                    self.assertEqual((node.level, [alias.asname for alias in node.names if alias.asname]), (0, []), name)
 
 
 if __name__ == "__main__":
