@@ -1,20 +1,24 @@
-"""Choices of words that have a price: all of them, in sequence, and the cheapest one."""
+"""Choices of what has a price: all of them, in sequence, and the cheapest one."""
 
 from netkeep.masks import bits
 from netkeep.words import by_length
+
+
+def choices_of(many):
+    """All rising lists of numbers below this one: shorter ones first, those of one length as Python compares them."""
+    return sorted([bits(mask) for mask in range(1 << many)], key=lambda choice: (len(choice), choice))
 
 
 def some_of(words):
     """All lists of some of the words, each sorted: shorter ones first, of one length as their words come."""
     words = by_length(words)
     # Of sorted words the positions compare as the words do.
-    choices = sorted([bits(mask) for mask in range(1 << len(words))], key=lambda choice: (len(choice), choice))
-    return [[words[at] for at in choice] for choice in choices]
+    return [[words[at] for at in choice] for choice in choices_of(len(words))]
 
 
-def price_of(prices, words):
-    """The price of the words together."""
-    return sum([prices[word] for word in words])
+def price_of(prices, some):
+    """The price together of some things that have one."""
+    return sum([prices[one] for one in some])
 
 
 def cheapest_of(prices, choices):

@@ -4,6 +4,7 @@ from netkeep.errors import InvalidWords
 
 LETTERS = "abcdef"
 LONGEST_WORD = 12
+LONGEST_NAME = 8
 
 
 def is_integer(value):
@@ -26,6 +27,13 @@ def is_word(value):
     if not isinstance(value, str) or not 1 <= len(value) <= LONGEST_WORD:
         return False
     return all([is_letter(sign) for sign in value])
+
+
+def is_name(value):
+    """Whether it is a string of one to eight signs from a to z."""
+    if not isinstance(value, str) or not 1 <= len(value) <= LONGEST_NAME:
+        return False
+    return all(["a" <= sign <= "z" for sign in value])
 
 
 def in_sequence(words):

@@ -3,10 +3,16 @@
 import copy
 import unittest
 
-from netkeep import answers, filled, lots, plans, questions, rules, secrets, told, twins, upkeep, within
+from netkeep import (
+    answers, filled, lots, parts, plans, plays, questions, rules, secrets, stocks, told, twins, upkeep, vows, weaving,
+    within,
+)
 from netkeep.lots import Lot
+from netkeep.parts import Scene
 from netkeep.questions import Question
+from netkeep.stocks import Wish
 from netkeep.store import Store
+from netkeep.weaving import Sessions
 from support import Case
 
 STORE = Store(4, [(0, "a", 1), (0, "a", 2), (1, "b", 3), (2, "b", 3), (3, "c", 0)])
@@ -20,6 +26,18 @@ APART = upkeep.apart(Lot(["ab"]), "a")
 WHETHER = {"ab": [(0, 0)], "b": [], "bc": [(0, 1)]}
 MANY = {"ab": [[0, 1], [1, 0]], "b": [[0, 1], [1, 0]], "bc": [[0, 1], [0, 0]]}
 PRICES = {"ab": 1, "b": 0}
+WORTH = {"b": 0, "a": 1, "ab": 1}
+WISH = Wish(["ab"], "b", ["aa"])
+LOOSE = (0, "a", 1)
+STOP, DOOR = ("stop", "go", 1), ("door", "go", 0, "go")
+SCENE = Scene(Store(2, [LOOSE]), [LOOSE], {"go": [("strike", LOOSE), ("put", LOOSE)], "add": [("put", LOOSE)]},
+              [STOP, DOOR, ("change", "add", 1, ("strike", LOOSE))], [("aa", "a")])
+VOW = [("a", (0, 1), True)]
+COSTS = {STOP: 1, DOOR: 0, "go": 1, "add": 0, ("change", "add", 1, ("strike", LOOSE)): 1}
+PLAY = [("go", [("door", ("go", ["next", "stop"])), "next", "stop"])]
+RECORD = vows.record(SCENE)
+TREE = plays.tree_against(SCENE, VOW, COSTS, 1, "rest")
+SESSIONS = Sessions(2, [[("ask", "a"), ("strike", (1, "b", 0)), ("ask", "b")], [("put", LOOSE)]])
 CALLS = [
     (answers.pairs, {"store": STORE, "word": "ab"}),
     (answers.counts, {"store": STORE, "word": "ab"}),
@@ -130,8 +148,52 @@ CALLS = [
     (secrets.tree_of_plans, {"lot": THREE, "prices": PRICES, "secrets": ["abc", "ab", "b"], "number": 0}),
     (secrets.is_tree_of_plans, {"lot": THREE, "prices": PRICES, "secrets": ["abc", "ab", "b"], "number": 0,
                                 "value": (1, [(0, "ab", 2)], [])}),
+    (stocks.stocks, {"prices": WORTH, "wish": WISH}),
+    (stocks.is_stock, {"prices": WORTH, "wish": Wish(["ab"], "b"), "value": Lot(["a", "b"])}),
+    (stocks.cheapest_stock, {"prices": WORTH, "wish": WISH}),
+    (stocks.price_of_stock, {"prices": WORTH, "wish": WISH}),
+    (stocks.reason, {"prices": WORTH, "wish": WISH, "lot": Lot(["ab"])}),
+    (stocks.tree_of_reasons, {"prices": WORTH, "wish": WISH, "number": 0}),
+    (stocks.is_tree_of_reasons, {"prices": WORTH, "wish": WISH, "number": 0,
+                                 "value": ("word", "a", ("dear",), ("word", "ab", ("dear",), ("cut", "ab", [0])))}),
+    (parts.changed, {"scene": SCENE, "state": (1,), "change": ("strike", LOOSE)}),
+    (parts.wanted, {"scene": SCENE, "state": (0,)}),
+    (parts.duty_way, {"scene": SCENE, "state": (0,)}),
+    (parts.rest_of, {"scene": SCENE, "state": (0,)}),
+    (parts.outcomes, {"scene": SCENE, "deed": "go", "state": (1,)}),
+    (vows.holds, {"scene": SCENE, "state": (1,), "vow": VOW}),
+    (vows.record, {"scene": SCENE}),
+    (vows.is_record, {"scene": SCENE, "value": RECORD}),
+    (vows.shows, {"scene": SCENE, "value": RECORD, "vow": [("b", (0, 1), False)], "looks": "rest"}),
+    (vows.is_kept, {"scene": SCENE, "vow": VOW, "looks": "rest"}),
+    (vows.seen, {"scene": SCENE, "looks": "rest"}),
+    (plays.is_play, {"scene": SCENE, "value": PLAY}),
+    (plays.looked, {"scene": SCENE, "play": PLAY, "looks": "all"}),
+    (plays.breaks, {"scene": SCENE, "play": PLAY, "vow": VOW, "looks": "rest"}),
+    (plays.cost, {"scene": SCENE, "play": PLAY, "prices": COSTS}),
+    (plays.cheapest_play, {"scene": SCENE, "vow": VOW, "prices": COSTS, "looks": "rest"}),
+    (plays.least_cost, {"scene": SCENE, "vow": VOW, "prices": COSTS, "looks": "rest"}),
+    (plays.cheapest_seals, {"scene": SCENE, "vow": VOW, "prices": COSTS, "looks": "rest"}),
+    (plays.tree_against, {"scene": SCENE, "vow": VOW, "prices": COSTS, "number": 1, "looks": "rest"}),
+    (plays.is_tree_against, {"scene": SCENE, "vow": VOW, "prices": COSTS, "number": 1, "value": TREE, "looks": "rest"}),
+    (weaving.weavings, {"sessions": SESSIONS}),
+    (weaving.is_weaving, {"sessions": SESSIONS, "value": [0, 1, 0, 0]}),
+    (weaving.weaving_of, {"sessions": SESSIONS, "order": [1, 0]}),
+    (weaving.marks, {"sessions": SESSIONS, "weaving": [0, 1, 0, 0], "spot": (0, 2)}),
+    (weaving.heard, {"sessions": SESSIONS, "store": STORE, "weaving": [0, 1, 0, 0]}),
+    (weaving.behind, {"sessions": SESSIONS, "store": STORE, "weaving": [0, 1, 0, 0]}),
+    (Scene, {"store": Store(2), "loose": [LOOSE], "deeds": {"go": [("put", LOOSE)]}, "powers": [("stop", "go", 0)],
+             "rules": [("a", "b")], "duty": True}),
+    (Wish, {"questions": ["ab"], "letters": "a", "secrets": ["b"]}),
+    (Sessions, {"nodes": 2, "programs": [[("put", (0, "a", 1)), ("ask", "a")], [("ask", "b")]]}),
+    (SCENE.body, {"deed": "go"}),
+    (SCENE.store_at, {"state": (0,)}),
+    (SCENE.__add__, {"other": [STOP, ("stop", "go", 0)]}),
+    (SCENE.__sub__, {"other": [STOP]}),
+    (WISH.is_granted, {"lot": LOT}),
 ]
-LIST_PARAMETERS = ("value", "rules", "others", "one", "other", "kept", "places", "answers", "secrets", "cut")
+LIST_PARAMETERS = ("value", "rules", "others", "one", "other", "kept", "places", "answers", "secrets", "cut", "loose",
+                   "powers", "questions", "programs", "vow", "play", "weaving", "order", "deeds")
 
 
 def spoiled(value):
@@ -156,6 +218,13 @@ def as_tuples(value):
 
 def shown(value):
     """What a value looks like, kinds of values included."""
+    if isinstance(value, Scene):
+        parts = (value.store, value.loose(), [(deed, value.body(deed)) for deed in value.deeds()], value.powers())
+        return repr(("Scene", *parts, value.rules(), value.duty))
+    if type(value) in (list, tuple):
+        return f"{type(value).__name__}({', '.join(map(shown, value))})"
+    if type(value) is dict:
+        return f"dict({', '.join(f'{shown(key)}: {shown(value[key])}' for key in value)})"
     return repr(value)
 
 
@@ -200,8 +269,8 @@ class Conventions(Case):
                 if name == "value":
                     self.is_bool(False, call(**some))
                 else:
-                    if name != "done":
-                        with self.assertRaises(ValueError):
+                    if name not in ("done", "vow"):
+                        with self.assertRaises((ValueError, LookupError)):
                             call(**some)
 
     def test_results_are_new(self):

@@ -71,8 +71,8 @@ UPKEEP = r"""
 >>> [tie, one.ties(), pairs(one + tie, "ab"), pairs(other + tie, "ab")]
 [(4, 'a', 0), [(0, 'b', 2), (1, 'b', 3)], [(4, 2)], [(4, 3)]]
 """
-# Of this example only what speaks of secrets.
-SECRETS = r"""
+STAGE_5 = r"""
+>>> from netkeep.stocks import Wish, cheapest_stock, is_tree_of_reasons
 >>> from netkeep.lots import Lot
 >>> from netkeep.secrets import cheapest_withholding, gives_away, is_tree_of_plans, least_withholdings
 >>> asked, worth = Lot(["ab", "b", "bc"]), {"ab": 3, "b": 1, "bc": 2}
@@ -80,6 +80,34 @@ SECRETS = r"""
 [True, ['b'], [['b'], ['ab'], ['bc']]]
 >>> is_tree_of_plans(asked, worth, ["abc"], 0, (0, [(0, "ab", 2), (2, "b", 1), (1, "bc", 3)], []))
 True
+>>> prices, wish = {"a": 2, "b": 1, "ab": 2}, Wish(["ab"], "b")
+>>> [cheapest_stock(prices, wish).words(), cheapest_stock(prices, wish | Wish(secrets=["b"])).words()]
+[['a', 'b'], ['a', 'ab']]
+>>> is_tree_of_reasons(prices, wish, 1, ("word", "a", ("dear",), ("word", "ab", ("dear",), ("cut", "ab", [0]))))
+True
+"""
+STAGE_6 = r"""
+>>> from netkeep.parts import Scene, outcomes
+>>> from netkeep.plays import cheapest_play, cheapest_seals, least_cost
+>>> from netkeep.store import Store
+>>> from netkeep.vows import is_kept
+>>> tie = (1, "b", 2)
+>>> scene = Scene(Store(3, [(0, "a", 1), tie]), [tie], {"cut": [("strike", tie), ("put", tie)]}, [("stop", "cut", 1)])
+>>> vow, prices = [("ab", (0, 2), True)], {"cut": 2, ("stop", "cut", 1): 3}
+>>> [outcomes(scene, "cut", (1,)), is_kept(scene, vow), is_kept(scene, vow, "rest"), is_kept(scene - [("stop", "cut", 1)], vow, "rest")]
+[[(0,), (1,)], False, False, True]
+>>> [cheapest_play(scene, vow, prices, "rest"), least_cost(scene, vow, prices), cheapest_seals(scene, vow, prices, "rest")]
+[[('cut', ['next', 'stop'])], 2, (3, [('stop', 'cut', 1)])]
+"""
+# Of this example only what speaks of weavings.
+STAGE_7 = r"""
+>>> from netkeep.weaving import Sessions, heard, marks
+>>> from netkeep.store import Store
+>>> two = Sessions(2, [[("ask", "a"), ("ask", "a")], [("put", (0, "a", 1))]])
+>>> marks(two, [0, 1, 0], (0, 1))
+{(0, 'a', 1): True}
+>>> heard(two, Store(2), [0, 1, 0])
+{(0, 0): [], (0, 1): [(0, 1)]}
 """
 
 
@@ -104,8 +132,14 @@ class Examples(unittest.TestCase):
         self.run_example("stage 4", STAGE_4)
         self.run_example("upkeep", UPKEEP)
 
-    def test_stage_5_as_far_as_secrets(self):
-        self.run_example("secrets", SECRETS)
+    def test_stage_5(self):
+        self.run_example("stage 5", STAGE_5)
+
+    def test_stage_6(self):
+        self.run_example("stage 6", STAGE_6)
+
+    def test_stage_7_as_far_as_weavings(self):
+        self.run_example("stage 7", STAGE_7)
 
 
 if __name__ == "__main__":

@@ -42,6 +42,18 @@ FUNCTIONS = {
         least_withholdings(lot,prices,secrets) cheapest_withholding(lot,prices,secrets)
         price_of_hiding(lot,prices,secrets) tree_of_plans(lot,prices,secrets,number)
         is_tree_of_plans(lot,prices,secrets,number,value)""",
+    "stocks": """stocks(prices,wish) is_stock(prices,wish,value) cheapest_stock(prices,wish) price_of_stock(prices,wish)
+        reason(prices,wish,lot) tree_of_reasons(prices,wish,number) is_tree_of_reasons(prices,wish,number,value)""",
+    "parts": """changed(scene,state,change) wanted(scene,state) duty_way(scene,state) rest_of(scene,state)
+        outcomes(scene,deed,state)""",
+    "vows": """holds(scene,state,vow) record(scene) is_record(scene,value) shows(scene,value,vow,looks='all')
+        is_kept(scene,vow,looks='all') seen(scene,looks='all')""",
+    "plays": """is_play(scene,value) looked(scene,play,looks='all') breaks(scene,play,vow,looks='all')
+        cost(scene,play,prices) cheapest_play(scene,vow,prices,looks='all') least_cost(scene,vow,prices,looks='all')
+        cheapest_seals(scene,vow,prices,looks='all') tree_against(scene,vow,prices,number,looks='all')
+        is_tree_against(scene,vow,prices,number,value,looks='all')""",
+    "weaving": """weavings(sessions) is_weaving(sessions,value) weaving_of(sessions,order)
+        marks(sessions,weaving,spot=None) heard(sessions,store,weaving) behind(sessions,store,weaving)""",
 }
 METHODS = {
     ("store", "Store"): """__init__(self,nodes,ties) ties(self) letters(self) goals(self,node,letter)
@@ -51,11 +63,21 @@ METHODS = {
         signs(self) reads(self,signs) trimmed(self) renumbered(self,order) of(signs) __eq__ __repr__""",
     ("lots", "Lot"): """__init__(self,words) words(self) letters(self) __add__ __sub__ __or__ __and__ __len__
         __contains__ __iter__ __eq__ __repr__""",
+    ("stocks", "Wish"): """__init__(self,questions,letters,secrets) questions(self) letters(self) secrets(self)
+        is_granted(self,lot) __or__ __eq__ __repr__""",
+    ("parts", "Scene"): """__init__(self,store,loose,deeds,powers,rules,duty) loose(self) deeds(self) powers(self)
+        rules(self) body(self,deed) store_at(self,state) with_duty(self,duty) __sub__ __add__ __eq__""",
+    ("weaving", "Sessions"): """__init__(self,nodes,programs) programs(self) spots(self) asks(self) touched(self)
+        orders(self) __getitem__ __len__ __eq__ __repr__""",
 }
-PROPERTIES = {("store", "Store"): ["nodes"], ("questions", "Question"): ["standings"]}
+PROPERTIES = {("store", "Store"): ["nodes"], ("questions", "Question"): ["standings"],
+              ("parts", "Scene"): ["store", "duty", "first_state"], ("weaving", "Sessions"): ["nodes"]}
 VALUES = {("store", "Store"): {"MOST_NODES": 40, "MOST_TIES": 400}, ("questions", "Question"): {"MOST_STANDINGS": 9},
-          ("lots", "Lot"): {"MOST_WORDS": 8}}
-DEFAULTS = {("store", "Store"): {"ties": ()}, ("lots", "Lot"): {"words": ()}}
+          ("lots", "Lot"): {"MOST_WORDS": 8},
+          ("weaving", "Sessions"): {"MOST_NODES": 8, "MOST_SESSIONS": 3, "MOST_LINES": 3}}
+DEFAULTS = {("store", "Store"): {"ties": ()}, ("lots", "Lot"): {"words": ()},
+            ("stocks", "Wish"): {"questions": (), "letters": "", "secrets": ()},
+            ("parts", "Scene"): {"powers": (), "rules": (), "duty": False}}
 FOLDER = os.path.dirname(netkeep.__file__)
 LIBRARY = {"math": {"gcd"}, "heapq": {"heappop", "heappush"}}
 
