@@ -64,7 +64,7 @@ def _forth(nodes, ahead, matrix):
 def _back(nodes, ahead, matrix):
     rows, free = ahead
     # A row behind, times the matrix, is one ahead and some of the free ones.
-    together = Rows([*matrix, *free], nodes)
+    together = Rows(list(matrix) + free, nodes)
     found = [together.combination(row) for row in rows]
     if None in found:
         return None

@@ -56,4 +56,4 @@ def turned(loose, state, change):
     """The state behind a change."""
     kind, tie = change
     at = loose.index(tie)
-    return (*state[:at], int(kind == "put"), *state[at + 1:])
+    return state[:at] + (int(kind == "put"),) + state[at + 1:]

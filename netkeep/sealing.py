@@ -14,7 +14,7 @@ def cheapest_sealing(search, scene, prices):
     powers = scene.powers()
     choices = [[powers[at] for at in choice] for choice in choices_of(len(powers))]
     broken = []
-    for sealed in sorted(choices, key=lambda choice: price_of(prices, choice)):
+    for sealed in sorted(choices, key=lambda some: price_of(prices, some)):
         # A play that uses none of the sealed powers is still there.
         if all([any([power in sealed for power in used]) for used in broken]):
             play = play_without(search, scene, sealed)

@@ -19,7 +19,7 @@ class Rows:
             self._take(row, [int(place == other) for other in range(self._many)])
 
     def _take(self, row, share):
-        line = self._less([*row, *share, 0])
+        line = self._less(list(row) + share + [0])
         columns = [column for column in range(self._width) if line[column]]
         if columns:
             self._leads.append((columns[0], line))
@@ -38,7 +38,7 @@ class Rows:
     def combination(self, row):
         """The fraction row of how often each row is taken to make this fraction row; None if they cannot make it."""
         numbers, below = row
-        line = self._less([*numbers, *[0] * self._many, 1])
+        line = self._less(numbers + [0] * self._many + [1])
         if any(line[:self._width]):
             return None
         return lowest([-number for number in line[self._width:-1]], line[-1] * below)

@@ -24,7 +24,7 @@ def stretches_of(word, letter):
 
 def left_by(word, places):
     """The stretches that a choice leaves: up to its first position, between neighbours, behind the last one."""
-    ends = [*places, len(word)]
+    ends = list(places) + [len(word)]
     begins = [0] + [place + 1 for place in places]
     return [word[begin:end] for begin, end in zip(begins, ends)]
 

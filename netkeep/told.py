@@ -4,7 +4,7 @@ from math import gcd
 
 from netkeep.atwork import need_few_nodes, paper_of, relations_at_work, stages, told_by
 from netkeep.bridging import least_plan, settles
-from netkeep.checks import need_nodes, need_telling, need_word
+from netkeep.checks import need_word
 from netkeep.errors import InvalidKept, NotSettled
 from netkeep.lots import is_kept
 from netkeep.solving import fraction_row, times
@@ -14,24 +14,19 @@ from netkeep.words import is_integer
 
 def told(lot, word, nodes, kept, telling):
     """What is told of the word by the kept answers."""
-    need_word(word)
-    need_nodes(nodes)
-    need_telling(telling)
     _need_kept(lot, word, nodes, kept, telling)
     return told_by(lot.words(), word, nodes, kept, telling)
 
 
 def tables(lot, word, nodes, kept):
     """The relations of the plan at work."""
-    need_word(word)
-    need_nodes(nodes)
     _need_kept(lot, word, nodes, kept, "whether")
     return relations_at_work(least_plan(lot.words(), word), nodes, kept)
 
 
 def count_paper(lot, word, nodes, kept):
     """A count paper of the plan; None if there is none."""
-    _need_matrices(lot, word, nodes, kept)
+    _need_kept(lot, word, nodes, kept, "many")
     steps = least_plan(lot.words(), word)
     need_few_nodes(steps, nodes)
     found = stages(steps, nodes, kept)
@@ -42,7 +37,7 @@ def count_paper(lot, word, nodes, kept):
 
 def is_count_paper(lot, word, nodes, kept, value):
     """Whether any value is a count paper of the plan."""
-    _need_matrices(lot, word, nodes, kept)
+    _need_kept(lot, word, nodes, kept, "many")
     steps = least_plan(lot.words(), word)
     if not is_list(value) or len(value) != len(steps) + 1:
         return False
@@ -51,20 +46,16 @@ def is_count_paper(lot, word, nodes, kept, value):
     papers = [[fraction_row(line) for line in grid] for grid in value]
     if papers[0] != [([int(x == y) for y in range(nodes)], 1) for x in range(nodes)]:
         return False
-    for (begin, word_gone, end), ahead, behind in zip(steps, papers, papers[1:]):
+    for (begin, gone, end), ahead, behind in zip(steps, papers, papers[1:]):
         less, more = (ahead, behind) if begin < end else (behind, ahead)
-        if [times(row, kept[word_gone], nodes) for row in less] != more:
+        if [times(row, kept[gone], nodes) for row in less] != more:
             return False
     return True
 
 
-def _need_matrices(lot, word, nodes, kept):
-    need_word(word)
-    need_nodes(nodes)
-    _need_kept(lot, word, nodes, kept, "many")
-
-
 def _need_kept(lot, word, nodes, kept, telling):
+    need_word(word)
+    # Refuses what is no number of nodes and no telling, too.
     if not is_kept(lot, nodes, kept, telling):
         raise InvalidKept(kept)
     if not settles(lot.words(), word):

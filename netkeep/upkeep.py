@@ -104,8 +104,6 @@ def is_plans_paper(lot, letter, value):
 
 def behind_put(lot, nodes, kept, telling, tie, done=True):
     """The kept answers behind the put of the tie."""
-    need_nodes(nodes)
-    need_telling(telling)
     _need_kept_up(lot, nodes, kept, telling, tie)
     words = lot.words()
     grids = {word: grid_of(nodes, kept[word], telling) for word in words}
@@ -118,15 +116,14 @@ def behind_put(lot, nodes, kept, telling, tie, done=True):
 
 def behind_strike(lot, nodes, kept, tie, done=True):
     """The kept answers, in "many", behind the strike of the tie."""
-    need_nodes(nodes)
     _need_kept_up(lot, nodes, kept, "many", tie)
     words = lot.words()
     new = {word: grid_of(nodes, kept[word], "many") for word in words}
     if not done:
         return new
     for word in words:
-        shorter = [other for other in words if len(other) < len(word)]
-        told = _told_grids(shorter, [word], nodes, new, "many", tie)
+        # The plans of its stretches take words that are shorter than it, whose answers are the new ones by now.
+        told = _told_grids(words, [word], nodes, new, "many", tie)
         new[word] = _sum(new[word], all_parts(word, tie, told, nodes), -1)
         if min([min(line) for line in new[word]]) < 0:
             raise InvalidKept(kept)
@@ -185,6 +182,7 @@ def _need_answers(word, places, nodes, telling, answers):
 
 
 def _need_kept_up(lot, nodes, kept, telling, tie):
+    # Refuses what is no number of nodes and no telling, too.
     if not is_kept(lot, nodes, kept, telling):
         raise InvalidKept(kept)
     need_tie(tie, nodes)

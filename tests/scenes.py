@@ -197,11 +197,13 @@ def slow_play(scene, play):
     return every, rests, used
 
 
-def some_scene(rng, many_loose=3, powers=5, nodes=3, deeds=3):
-    """A scene, as the random source tells."""
-    every = [(x, letter, y) for x in range(nodes) for letter in "ab" for y in range(nodes)]
-    loose = rng.sample(every, rng.randint(1, many_loose))
-    fixed = [tie for tie in rng.sample(every, 3) if tie not in loose] + [tie for tie in loose if rng.random() < 0.5]
+def some_scene(rng, many_loose=3, powers=5, deeds=3):
+    """A scene with rules that want some of its loose ties, as the random source tells."""
+    nodes = rng.choice((1, 2, 2, 3))
+    every = [(x, letter, y) for x in range(nodes) for letter in "abc" for y in range(nodes)]
+    loose = rng.sample(every, rng.randint(1, min(many_loose, len(every))))
+    fixed = [tie for tie in rng.sample(every, min(3, len(every))) if tie not in loose]
+    fixed += [tie for tie in loose if rng.random() < 0.5]
     changes = [(kind, tie) for kind in ("put", "strike") for tie in loose]
     names = rng.sample(["go", "a", "zz", "cut"], rng.randint(1, deeds))
     bodies = {name: [rng.choice(changes) for _ in range(rng.randint(1, 3))] for name in names}
@@ -214,12 +216,59 @@ def some_scene(rng, many_loose=3, powers=5, nodes=3, deeds=3):
     for power in rng.sample(able, min(len(able), rng.randint(0, powers))):
         if power not in chosen:
             chosen.append(power)
-    rules = rng.sample([("a", "b"), ("b", "a"), ("aa", "a"), ("ab", "b"), ("ba", "a"), ("aba", "b")], rng.randint(0, 3))
-    return Scene(Store(nodes, fixed), loose, bodies, chosen, rules, rng.random() < 0.5)
+    rules = [("a", "b"), ("b", "a"), ("aa", "a"), ("ab", "b"), ("ba", "a"), ("aba", "b"), ("b", "c"), ("c", "a"), ("a", "c")]
+    return Scene(Store(nodes, fixed), loose, bodies, chosen, rng.sample(rules, rng.randint(0, 4)), rng.random() < 0.6)
 
 
-def some_vow(rng, nodes=3):
+def great_scene(rules=(), duty=True):
+    """A scene at the limits: six loose ties, four deeds, eight powers."""
+    ties = [(x, "a", y) for x in range(2) for y in range(3)]
+    bodies = {"p": [("put", ties[0]), ("strike", ties[1]), ("put", ties[2])],
+              "q": [("strike", ties[0]), ("put", ties[3])], "r": [("put", ties[4]), ("strike", ties[5])],
+              "s": [("put", ties[5]), ("strike", ties[4]), ("strike", ties[3])]}
+    powers = [("door", "p", 1, "q"), ("door", "q", 1, "r"), ("door", "r", 1, "s"), ("door", "s", 2, "p"),
+              ("stop", "s", 1), ("stop", "p", 0), ("change", "r", 2, ("put", ties[1])),
+              ("change", "s", 3, ("strike", ties[2]))]
+    return Scene(Store(3), ties, bodies, powers, rules, duty)
+
+
+def some_run(rng, scene, deed, depth, cut):
+    """A run of the deed, as the random source tells: whole, or cut somewhere; None if the source leads astray."""
+    body, place, steps = scene.body(deed), 0, []
+    while len(steps) < 12:
+        able = ["next"] * 2 if place < len(body) else ["over"] * 2
+        able += [power for power in scene.powers() if power[1:3] == (deed, place)]
+        step = rng.choice(able)
+        if cut and rng.random() < 0.2:
+            return deed, steps
+        if step == "over":
+            return deed, steps
+        if step == "next":
+            place += 1
+            steps.append("next")
+        elif step[0] == "stop":
+            return deed, steps + ["stop"]
+        elif step[0] == "change":
+            steps.append(("change", step[3]))
+        else:
+            ends = cut and rng.random() < 0.3
+            inner = some_run(rng, scene, step[3], depth - 1, ends) if depth else None
+            if inner is not None:
+                steps.append(("door", inner))
+            if ends:
+                return deed, steps
+    return None
+
+
+def some_play(rng, scene):
+    """A play, as the random source tells."""
+    runs = [some_run(rng, scene, rng.choice(scene.deeds()), 3, False) for _ in range(rng.randint(0, 3))]
+    last = some_run(rng, scene, rng.choice(scene.deeds()), 3, True)
+    return [run for run in runs + [last] if run is not None]
+
+
+def some_vow(rng, scene):
     """A vow, as the random source tells."""
-    words = ["a", "b", "ab", "ba", "aa", "abb"]
-    return [(rng.choice(words), (rng.randrange(nodes), rng.randrange(nodes)), rng.random() < 0.4)
+    words, nodes = ["a", "b", "c", "ab", "ba", "aa", "cb", "abb"], scene.store.nodes
+    return [(rng.choice(words), (rng.randrange(nodes), rng.randrange(nodes)), rng.random() < 0.5)
             for _ in range(rng.choice((1, 1, 2)))]

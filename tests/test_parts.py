@@ -7,8 +7,8 @@ from netkeep.errors import InvalidRules
 from netkeep.faults import InvalidBodies, InvalidChange, InvalidLoose, InvalidPowers, InvalidState, UnknownDeed
 from netkeep.parts import Scene, changed, duty_way, outcomes, rest_of, wanted
 from netkeep.store import Store
-from scenes import Grown, all_states, slow_turned, slow_wanted, slow_way, some_scene
-from support import Case, Odd, wrong_values
+from scenes import Grown, all_states, great_scene, slow_turned, slow_wanted, slow_way, some_scene
+from support import Case, Odd, Same, wrong_values
 
 TIE, OTHER = (1, "b", 2), (0, "a", 2)
 STORE = Store(3, [(0, "a", 1), TIE])
@@ -117,7 +117,9 @@ class Wrong(Case):
             ("door", "cut", 0), ("door", "cut", 0, "cat"), ("door", "cut", 3, "cut"), ("door", "cut", 0, None),
             ("door", "cut", 0, ["cut"]), ("change", "cut", 0), ("change", "cut", 0, OTHER), ("change", "cut", 3, BODY[0]),
             ("change", "cut", False, BODY[0]), (None, "cut", 0), ("next", "cut", 0), ("door", 0, 0, "cut"),
-            ("stop", "cut", "0"), ("stop", "cut", None)]
+            ("stop", "cut", "0"), ("stop", "cut", None), ("stop", "cut", 0, BODY[0]), ("next", "cut", 0, BODY[0]),
+            ("door", "cut", 0, BODY[0]), (Same(), "cut", 0), (Same(), "cut", 0, "cut"), ("stop", Same(), 0),
+            ("change", "cut", 0, BODY[0], 0), ("stop",), ()]
         for value in wrong + [("change", "cut", 0, change) for change in WRONG_CHANGES]:
             self.refuses(InvalidPowers, {"position": 1}, Scene, STORE, [TIE], {"cut": BODY}, [STOP, value], None)
         self.refuses(InvalidPowers, {"position": 1}, Scene, STORE, [TIE], {"cut": BODY}, [STOP, STOP])
@@ -271,16 +273,9 @@ class Outcomes(Case):
             self.refuses(InvalidState, {"value": value}, outcomes, SCENE, "cut", value)
 
     def test_at_the_limits(self):
-        ties = [(x, "a", y) for x in range(2) for y in range(3)]
-        bodies = {"p": [("put", ties[0]), ("strike", ties[1]), ("put", ties[2])],
-                  "q": [("strike", ties[0]), ("put", ties[3])], "r": [("put", ties[4]), ("strike", ties[5])],
-                  "s": [("put", ties[5]), ("strike", ties[4]), ("strike", ties[3])]}
-        powers = [("door", "p", 1, "q"), ("door", "q", 1, "r"), ("door", "r", 1, "s"), ("door", "s", 2, "p"),
-                  ("stop", "s", 1), ("stop", "p", 0), ("change", "r", 2, ("put", ties[1])),
-                  ("change", "s", 3, ("strike", ties[2]))]
-        scene = Scene(Store(3), ties, bodies, powers, [("aa", "a"), ("a", "b"), ("b", "a"), ("ab", "a")], True)
+        scene = great_scene([("aa", "a"), ("a", "b"), ("b", "a"), ("ab", "a")])
         grown = Grown(scene)
-        for deed in bodies:
+        for deed in scene.deeds():
             for state in all_states(scene)[::7]:
                 self.assertEqual(outcomes(scene, deed, state), sorted(grown.over[deed, state]))
 

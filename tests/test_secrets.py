@@ -214,15 +214,21 @@ class Trees(Case):
 
     def test_trees_that_are_otherwise(self):
         lot, prices, secrets = Lot(["a", "b", "ab"]), {"a": 1, "b": 1, "ab": 9}, ["ba", "ab"]
-        lot = lot + "ba"
         tree = tree_of_plans(lot, prices, secrets, 2)
-        self.assertTrue(slow_is_tree(lot.words(), prices, secrets, 2, tree))
+        steps = [(0, "a", 1), (1, "b", 2)]
+        deep = (1, steps, [("a", (1, [(0, "ab", 2)], [])), ("b", (1, [(0, "ab", 2)], []))])
+        # Below, a withheld word is used again, or one that is kept for good has a branch.
+        wrong = [(1, steps, [("a", (1, steps, [("b", deep[2][0][1])])), deep[2][1]]),
+                 (1, steps, [deep[2][0], ("b", (0, [(0, "b", 1), (1, "a", 2)], [("a", deep[2][0][1])]))])]
         looked = 0
-        for value in otherwise(tree):
-            looked += 1
-            self.is_bool(slow_is_tree(lot.words(), prices, secrets, 2, value),
-                         is_tree_of_plans(lot, prices, secrets, 2, value))
-        self.assertGreater(looked, 200)
+        for good in (tree, deep):
+            self.assertTrue(slow_is_tree(lot.words(), prices, secrets, 2, good))
+            self.is_bool(True, is_tree_of_plans(lot, prices, secrets, 2, good))
+            for value in list(otherwise(good)) + wrong:
+                looked += 1
+                self.is_bool(slow_is_tree(lot.words(), prices, secrets, 2, value),
+                             is_tree_of_plans(lot, prices, secrets, 2, value))
+        self.assertGreater(looked, 1000)
 
     def test_branches_are_sorted_as_words_are(self):
         lot, prices = Lot(["b", "aa", "aab", "baa"]), {"b": 1, "aa": 1}

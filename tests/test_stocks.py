@@ -286,6 +286,27 @@ class Reasons(Case):
         whole = ("word", "ab", ("word", "a", ("dear",), stretch), ("word", "a", ("cut", "ab", [0, 1]), ("cut", "ab", [0])))
         self.is_bool(True, is_tree_of_reasons({"a": 1, "ab": 1}, WISH, 1, whole))
 
+    def test_only_what_the_wish_wants_is_a_reason(self):
+        free, wish = {"a": 0, "b": 0, "ab": 0}, Wish(["ab"], "b", ["ab"])
+        taken = lambda last: ("word", "a", ("word", "b", ("word", "ab", last, last), last), last)
+        for reasons in ([("plan", "a", [(0, "a", 1)]), ("plan", "b", [(0, "b", 1)]), ("plan", "ab", [(0, "ab", 2)])],
+                        [("cut", "f", [0]), ("cut", "ca", [0]), ("cut", "ba", [0])]):
+            for told in reasons:
+                tree = ("word", "ab", told, told)
+                self.is_bool(slow_is_tree(free, wish, 9, tree), is_tree_of_reasons(free, wish, 9, tree))
+                self.is_bool(slow_is_tree(free, wish, 9, taken(told)), is_tree_of_reasons(free, wish, 9, taken(told)))
+        # The letter of a stretch is one of the wish.
+        for letter, stretch, good in (("b", "a", True), ("a", "b", False)):
+            told = ("stretch", "ab", letter, stretch, [0])
+            tree = ("word", "ab", ("word", "a", ("dear",), ("word", "b", ("dear",), told)), ("cut", "ab", [0, 1]))
+            prices = {"a": 2, "b": 2, "ab": 1}
+            self.is_bool(good and slow_is_tree(prices, wish, 1, tree), is_tree_of_reasons(prices, wish, 1, tree))
+        # No word is taken, or left, twice.
+        twice = ("word", "a", ("word", "a", ("dear",), ("dear",)), ("word", "ab", ("dear",), ("cut", "ab", [0])))
+        self.is_bool(False, is_tree_of_reasons(PRICES, WISH, 1, twice))
+        left = ("word", "a", ("dear",), ("word", "a", ("dear",), ("word", "ab", ("dear",), ("cut", "ab", [0]))))
+        self.is_bool(False, is_tree_of_reasons(PRICES, WISH, 1, left))
+
     def test_trees_that_are_otherwise(self):
         prices, wish = {"a": 1, "ab": 1, "b": 5}, Wish(["ab"], "b", ["aab"])
         whole = ("word", "ab", ("word", "a", ("dear",), ("stretch", "ab", "b", "a", [0])),

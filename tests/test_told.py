@@ -285,6 +285,21 @@ class Papers(Case):
             paper = [[[(1, 1)]], [[(0, 1)]], [[value]], [[(0, 1)]]]
             self.is_bool(fits, is_count_paper(LOT, "abc", 1, nothing, paper))
 
+    def test_the_first_matrix_is_the_unit_one(self):
+        kept = {"b": [[1]], "ab": [[1]], "bc": [[1]]}
+        for number, good in (((1, 1), True), ((0, 1), False), ((2, 1), False)):
+            self.is_bool(good, is_count_paper(LOT, "abc", 1, kept, [[[number]]] * 4))
+
+    def test_what_one_step_back_leaves_free_is_bound_by_another_one(self):
+        lot = Lot(["ab", "b", "bcd", "d", "de"])
+        kept = {"ab": [[1, 0], [1, 0]], "b": [[1, 0], [0, 0]], "bcd": [[1, 0], [1, 1]], "d": [[0, 1], [0, 0]],
+                "de": [[1, 0], [2, 1]]}
+        paper = count_paper(lot, "abcde", 2, kept)
+        self.assertEqual(paper[2], [[(1, 1), (-1, 1)], [(1, 1), (-1, 1)]])
+        self.assertTrue(slow_is_paper(2, plan(lot, "abcde"), kept, paper))
+        self.is_bool(True, is_count_paper(lot, "abcde", 2, kept, paper))
+        self.refuses(NoMatrices, {}, told, lot, "abcde", 2, kept, "many")
+
     def test_many_papers_may_be_right(self):
         kept = {"b": [[1, 1], [0, 0]], "ab": [[1, 1], [0, 0]], "bc": [[0, 3], [0, 0]]}
         paper = count_paper(LOT, "abc", 2, kept)

@@ -9,11 +9,11 @@ from netkeep.lots import Lot, kept_of
 from netkeep.plans import cut, greatest_cut, is_cut
 from netkeep.store import Store
 from netkeep.twins import first_apart, is_parting, twins, unlike_words
-from support import Case, Odd, otherwise, slow_settles, some_store, some_words, subsets, wrong_values
+from support import Case, Odd, Same, otherwise, slow_settles, some_store, some_words, subsets, wrong_values
 
 LOT = Lot(["bc", "ab"])
 WRONG_WORDS = wrong_values() + ["aaaaaaaaaaaaa", "g", "aB", LOT]
-WRONG_TELLINGS = ["", "Many", None, True, ["many"], Odd(), 0]
+WRONG_TELLINGS = ["", "Many", None, True, ["many"], Odd(), Same(), 0]
 
 
 class Twins(Case):

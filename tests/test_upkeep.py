@@ -19,13 +19,13 @@ from netkeep.upkeep import (
     plans_paper, stretches, unsettled,
 )
 from support import (
-    Case, Odd, all_words, otherwise, slow_is_plan, slow_keeps_up, slow_settles, slow_stretches, some_store, some_words,
+    Case, Odd, Same, all_words, otherwise, slow_is_plan, slow_keeps_up, slow_settles, slow_stretches, some_store, some_words,
     subsets, wrong_values,
 )
 
 WRONG_WORDS = wrong_values() + ["aaaaaaaaaaaaa", "g", "aB", Lot(["a"])]
 WRONG_LETTERS = wrong_values() + ["g", "A", "ab", "", 0, ["a"]]
-WRONG_TELLINGS = ["", "Many", None, True, ["many"], Odd(), 0]
+WRONG_TELLINGS = ["", "Many", None, True, ["many"], Odd(), Same(), 0]
 WRONG_NODES = [0, 41, True, None, "4", [4], Odd()]
 LOT = Lot(["ab", "b"])
 EMPTY = {"ab": [], "b": []}
@@ -496,6 +496,14 @@ class Apart(Case):
             self.is_bool(False, is_apart(lot, "a", "whether", value))
         self.is_bool(False, is_apart(Lot(["ab", "b"]), "a", "whether", (one, other, tie)))
         self.is_bool(False, is_apart(lot, "b", "whether", (one, other, tie)))
+
+    def test_the_tie_is_in_neither_store(self):
+        lot, tie = Lot(["ab"]), (0, "a", 1)
+        one, other = Store(3, [tie]), Store(3, [(1, "b", 2)])
+        for telling in ("whether", "many"):
+            self.is_bool(False, is_apart(lot, "a", telling, (one, other, tie)))
+            self.is_bool(False, is_apart(lot, "a", telling, (other, one, tie)))
+            self.is_bool(True, is_apart(lot, "a", telling, (one - tie, other, tie)))
 
     def test_unlike_in_many_alone(self):
         lot = Lot(["ab"])

@@ -7,8 +7,8 @@ from netkeep.faults import InvalidLooks, InvalidState, InvalidVow
 from netkeep.parts import Scene
 from netkeep.store import Store
 from netkeep.vows import holds, is_kept, is_record, record, seen, shows
-from scenes import Grown, all_states, slow_holds, slow_turned, slow_way, some_scene, some_vow
-from support import Case, Odd, otherwise, wrong_values
+from scenes import Grown, all_states, great_scene, slow_holds, slow_turned, slow_way, some_scene, some_vow
+from support import Case, Odd, Same, otherwise, wrong_values
 
 TIE = (1, "b", 2)
 STORE = Store(3, [(0, "a", 1), TIE])
@@ -86,7 +86,8 @@ class Holds(Case):
     def test_against_walks(self):
         rng = random.Random(141)
         for _ in range(150):
-            scene, vow = some_scene(rng), some_vow(rng)
+            scene = some_scene(rng)
+            vow = some_vow(rng, scene)
             for state in all_states(scene):
                 self.is_bool(slow_holds(scene, state, vow), holds(scene, state, vow))
 
@@ -132,11 +133,20 @@ class Kept(Case):
         self.assertEqual(seen(scene.with_duty(False), "rest"), [(0, 0), (1, 1)])
         self.assertEqual(record(scene), ({("go", (1, 1)): [(0, 0)]}, [(1, 1)]))
 
+    def test_states_that_the_duty_alone_comes_to(self):
+        loose = [(0, letter, 1) for letter in "bcd"]
+        scene = Scene(Store(2, [(0, "a", 1)] + loose), loose, {"go": [("strike", tie) for tie in loose]}, [],
+                      [("a", "b"), ("b", "c"), ("c", "d")], True)
+        self.assertEqual(seen(scene), [(0, 0, 0), (0, 0, 1), (0, 1, 1), (1, 0, 0), (1, 1, 0), (1, 1, 1)])
+        self.assertEqual(seen(scene.with_duty(False)), [(0, 0, 0), (0, 0, 1), (0, 1, 1), (1, 1, 1)])
+        self.assertEqual(seen(scene, "rest"), [(1, 1, 1)])
+
     def test_against_growing(self):
         rng = random.Random(142)
         kept = {True: 0, False: 0}
         for _ in range(250):
-            scene, vow = some_scene(rng, powers=8), some_vow(rng)
+            scene = some_scene(rng, powers=8)
+            vow = some_vow(rng, scene)
             grown = Grown(scene)
             told = record(scene)
             self.assertEqual(repr(told), repr(grown.record()))
@@ -162,6 +172,35 @@ class Records(Case):
         self.is_bool(True, is_record(SCENE, tuples))
         self.is_bool(False, is_record(SCENE, list(told)))
         self.is_bool(False, is_record(SCENE - [STOP], ({("cut", (1,)): [(1,)]}, [(0,)])))
+
+    def test_wrong_keys_and_states(self):
+        ends, rests = record(SCENE)
+        for key in wrong_values() + [("cuts", (1,)), (None, (1,)), (0, (1,)), (Same(), (1,)), ("cut", (2,)), ("cut", (True,)),
+                                     ("cut", (0, 0)), ("cut", ()), ("cut", 0), ("cut",), ("cut", (1,), 0), "cut"]:
+            if not isinstance(key, (list, dict, set, Odd)) and key != ([],):
+                self.is_bool(False, is_record(SCENE, ({**ends, key: [(1,)]}, rests)))
+                self.is_bool(False, shows(SCENE, ({**ends, key: [(1,)]}, rests), [("a", (0, 1), True)], "rest"))
+        for value in wrong_values() + [(2,), (True,), (0, 0), [1], "1", 0]:
+            for told in (ends | {("cut", (1,)): [(0,), (1,), value]}, rests), (ends, rests + [value]):
+                self.is_bool(False, is_record(SCENE, told))
+        self.is_bool(True, is_record(SCENE, (ends, rests + [(1,)])))
+
+    def test_a_stop_ends_the_body(self):
+        told = ({("cut", (1,)): [(1,)]}, [(1,)])
+        self.is_bool(False, is_record(SCENE, told))
+        self.is_bool(True, is_record(SCENE - [STOP], told))
+
+    def test_what_the_duty_comes_to_behind_the_lists_is_seen(self):
+        loose = [(0, "b", 1), (0, "c", 1)]
+        scene = Scene(Store(2, [(0, "a", 1)] + loose), loose, {"go": [("put", loose[0])]}, [], [("a", "b"), ("b", "c")], True)
+        told = ({("go", (1, 1)): [(1, 1), (0, 0)]}, [(1, 1)])
+        self.is_bool(True, is_record(scene, told))
+        self.is_bool(False, shows(scene, told, [("c", (0, 1), True)]))
+        self.is_bool(True, shows(scene, told, [("c", (0, 1), True)], "rest"))
+        self.is_bool(True, shows(scene, record(scene), [("c", (0, 1), True)]))
+        # Behind a list whose state is not at rest no duty comes.
+        self.is_bool(True, shows(scene, ({("go", (1, 1)): [(1, 1)], ("go", (1, 0)): [(1, 0), (0, 0)]}, [(1, 1)]),
+                                 [("b", (0, 1), True)]))
 
     def test_states_told_twice_and_further_keys(self):
         plain = SCENE - [STOP]
@@ -219,7 +258,8 @@ class Records(Case):
         rng = random.Random(143)
         good, bad = 0, 0
         for _ in range(12):
-            scene, vow = some_scene(rng, many_loose=2, powers=4, deeds=2), some_vow(rng)
+            scene = some_scene(rng, many_loose=2, powers=4, deeds=2)
+            vow = some_vow(rng, scene)
             told = record(scene)
             for value in otherwise(told):
                 sees = slow_is_record(scene, value)
@@ -242,15 +282,8 @@ class Records(Case):
         self.assertEqual(seen(SCENE), [(0,), (1,)])
 
     def test_at_the_limits(self):
-        ties = [(x, "a", y) for x in range(2) for y in range(3)]
-        bodies = {"p": [("put", ties[0]), ("strike", ties[1]), ("put", ties[2])],
-                  "q": [("strike", ties[0]), ("put", ties[3])], "r": [("put", ties[4]), ("strike", ties[5])],
-                  "s": [("put", ties[5]), ("strike", ties[4]), ("strike", ties[3])]}
-        powers = [("door", "p", 1, "q"), ("door", "q", 1, "r"), ("door", "r", 1, "s"), ("door", "s", 2, "p"),
-                  ("stop", "s", 1), ("stop", "p", 0), ("change", "r", 2, ("put", ties[1])),
-                  ("change", "s", 3, ("strike", ties[2]))]
         for duty in (False, True):
-            scene = Scene(Store(3), ties, bodies, powers, [("aa", "a"), ("a", "b"), ("b", "a"), ("ab", "a")], duty)
+            scene = great_scene([("aa", "a"), ("a", "b"), ("b", "a"), ("ab", "a")], duty)
             grown = Grown(scene)
             told = record(scene)
             self.assertEqual(repr(told), repr(grown.record()))

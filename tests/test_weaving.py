@@ -9,7 +9,7 @@ from netkeep.errors import InvalidNodes, InvalidOrder
 from netkeep.faults import InvalidPrograms, InvalidWeaving, TooFewNodes, UnknownSpot
 from netkeep.store import Store
 from netkeep.weaving import Sessions, behind, heard, is_weaving, marks, weaving_of, weavings
-from support import Case, Odd, otherwise, some_store, wrong_values
+from support import Case, Odd, Same, otherwise, some_store, wrong_values
 
 ASK, PUT, STRIKE = ("ask", "a"), ("put", (0, "a", 1)), ("strike", (0, "a", 1))
 TWO = Sessions(2, [[ASK, ASK], [PUT]])
@@ -105,7 +105,8 @@ class Wrong(Case):
         lines = wrong_values() + [("ask", "a" * 7), ("ask", ""), ("ask", "aB"), ("ask", None), ("ask", PUT[1]), ["ask", "a"],
                                   ("put", (0, "a", 2)), ("put", (2, "a", 0)), ("put", (0, "a", True)), ("put", [0, "a", 1]),
                                   ("put", "a"), ("strike", (0, "g", 1)), ("strike",), ("tell", "a"), (None, "a"),
-                                  ("ask", "a", 0), ("ASK", "a"), (0, (0, "a", 1))]
+                                  ("ask", "a", 0), ("ASK", "a"), (0, (0, "a", 1)),
+                                  ("tell", (0, "a", 1)), (Same(), "a"), (Same(), (0, "a", 1))]
         for value in lines:
             self.refuses(InvalidPrograms, {"position": 0}, Sessions, 2, [[ASK, value]])
             self.refuses(InvalidPrograms, {"position": 1}, Sessions, 2, [[ASK], (value,), [None]])
