@@ -2,7 +2,7 @@
 
 from netkeep.checks import need_node, need_nodes, need_telling, need_word
 from netkeep.errors import InvalidMatrix, InvalidRelation
-from netkeep.masks import couples_of, goal_rows, least_bit, led, rows_of, source_rows, union
+from netkeep.masks import back_rows, couples_of, goal_rows, least_bit, led, rows_of, source_rows, union
 from netkeep.ties import is_below, is_list, is_pair
 from netkeep.words import is_count
 
@@ -87,11 +87,7 @@ def product(nodes, one, other):
 def back(nodes, one, other):
     """One relation back over the other one."""
     _need_relations(nodes, one, other)
-    wanted = rows_of(nodes, other)
-    found = []
-    for x, mask in enumerate(rows_of(nodes, one)):
-        found.extend([(x, w) for w in range(nodes) if wanted[w] & mask == wanted[w]])
-    return found
+    return couples_of(back_rows(rows_of(nodes, one), rows_of(nodes, other)))
 
 
 def is_within(nodes, one, other):

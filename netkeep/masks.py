@@ -57,3 +57,15 @@ def led(rows, mask, letters):
     for letter in letters:
         mask = union(rows[letter], mask)
     return mask
+
+
+def closed(rows):
+    """The least transitive relation that has these rows, as a tuple."""
+    for middle in range(len(rows)):
+        rows = [mask | rows[middle] if mask >> middle & 1 else mask for mask in rows]
+    return tuple(rows)
+
+
+def back_rows(one, other):
+    """The rows of one relation back over the other one: for each x the w all of whose goals there x has here."""
+    return [mask_of([w for w, wanted in enumerate(other) if wanted & mask == wanted]) for mask in one]

@@ -1,7 +1,7 @@
 """Triples: where one question stands behind a string, with the reach and the rounds of another one there."""
 
 from netkeep.errors import TooMany
-from netkeep.masks import bits, couples_of, mask_of, rows_of, union
+from netkeep.masks import bits, closed, couples_of, mask_of, rows_of, union
 from netkeep.signs import contrary, step_rows
 from netkeep.ties import is_below, is_pair, is_rising
 
@@ -40,13 +40,6 @@ class Watch:
             rows = [union(self._steps[sign], union(rounds, mask)) for mask in there]
             self._known[rounds, sign] = closed([mask | 1 << at for at, mask in enumerate(rows)])
         return self._known[rounds, sign]
-
-
-def closed(rows):
-    """The least transitive relation that has these rows, as a tuple."""
-    for middle in range(len(rows)):
-        rows = [mask | rows[middle] if mask >> middle & 1 else mask for mask in rows]
-    return tuple(rows)
 
 
 class Board:

@@ -90,6 +90,22 @@ def is_weaving(sessions, value):
     return sorted(value) == [number for number, _ in sessions.spots()]
 
 
+def need_weaving(sessions, weaving):
+    """Refuse what is no weaving."""
+    if not is_weaving(sessions, weaving):
+        raise InvalidWeaving(weaving)
+
+
+def way_of(weaving):
+    """The spots of the lines in the sequence in which they are done."""
+    done = {}
+    found = []
+    for number in weaving:
+        found.append((number, done.get(number, 0)))
+        done[number] = done.get(number, 0) + 1
+    return found
+
+
 def weaving_of(sessions, order):
     """The weaving of the order: one session behind the other."""
     programs = sessions.programs()
@@ -100,11 +116,11 @@ def weaving_of(sessions, order):
 
 def marks(sessions, weaving, spot=None):
     """Whether the last line that puts or strikes a tie puts it: behind the lines ahead of a spot, or behind all."""
-    _need_weaving(sessions, weaving)
+    need_weaving(sessions, weaving)
     if spot is not None and not _is_spot(sessions.programs(), spot):
         raise UnknownSpot(spot)
     found = {}
-    for here in _way(weaving):
+    for here in way_of(weaving):
         if here == spot:
             break
         kind, worth = sessions[here]
@@ -117,7 +133,7 @@ def heard(sessions, store, weaving):
     """The dict from the spots of all asks to what they hear."""
     _need_store(sessions, store, weaving)
     found = {}
-    for spot in _way(weaving):
+    for spot in way_of(weaving):
         kind, worth = sessions[spot]
         if kind == "ask":
             found[spot] = pairs(store, worth)
@@ -129,7 +145,7 @@ def heard(sessions, store, weaving):
 def behind(sessions, store, weaving):
     """The store at the end."""
     _need_store(sessions, store, weaving)
-    for spot in _way(weaving):
+    for spot in way_of(weaving):
         kind, worth = sessions[spot]
         if kind != "ask":
             store = _behind_line(store, kind, worth)
@@ -172,26 +188,11 @@ def _weavings(left):
     return found
 
 
-def _way(weaving):
-    """The spots of the lines in the sequence in which they are done."""
-    done = {}
-    found = []
-    for number in weaving:
-        found.append((number, done.get(number, 0)))
-        done[number] = done.get(number, 0) + 1
-    return found
-
-
 def _behind_line(store, kind, tie):
     return store + tie if kind == "put" else store - tie
 
 
-def _need_weaving(sessions, weaving):
-    if not is_weaving(sessions, weaving):
-        raise InvalidWeaving(weaving)
-
-
 def _need_store(sessions, store, weaving):
-    _need_weaving(sessions, weaving)
+    need_weaving(sessions, weaving)
     if store.nodes < sessions.nodes:
         raise TooFewNodes(store.nodes, sessions.nodes)

@@ -4,12 +4,14 @@ import copy
 import unittest
 
 from netkeep import (
-    answers, filled, lots, parts, plans, plays, questions, rules, secrets, stocks, told, twins, upkeep, vows, weaving,
-    within,
+    answers, copies, explained, filled, joints, lots, parts, plans, plays, questions, rules, sayings, secrets, stocks,
+    told, twins, upkeep, vows, weaving, within,
 )
+from netkeep.kinds import Kind
 from netkeep.lots import Lot
 from netkeep.parts import Scene
 from netkeep.questions import Question
+from netkeep.sayings import Saying
 from netkeep.stocks import Wish
 from netkeep.store import Store
 from netkeep.weaving import Sessions
@@ -38,6 +40,11 @@ PLAY = [("go", [("door", ("go", ["next", "stop"])), "next", "stop"])]
 RECORD = vows.record(SCENE)
 TREE = plays.tree_against(SCENE, VOW, COSTS, 1, "rest")
 SESSIONS = Sessions(2, [[("ask", "a"), ("strike", (1, "b", 0)), ("ask", "b")], [("put", LOOSE)]])
+WOVEN = Sessions(2, [[("ask", "a"), ("ask", "a")], [("put", LOOSE), ("strike", LOOSE)]])
+MISSES = explained.misses(WOVEN, (0, 1, 0, 1))
+JOINT_COSTS = {(0, 0): 1, (1, 0): 1}
+WINS, ODD = Kind.strike_wins(), Kind([[1], [0]], [False, True])
+SAY = Saying(("then", "a", ("perhaps", "B")))
 CALLS = [
     (answers.pairs, {"store": STORE, "word": "ab"}),
     (answers.counts, {"store": STORE, "word": "ab"}),
@@ -186,6 +193,60 @@ CALLS = [
              "rules": [("a", "b")], "duty": True}),
     (Wish, {"questions": ["ab"], "letters": "a", "secrets": ["b"]}),
     (Sessions, {"nodes": 2, "programs": [[("put", (0, "a", 1)), ("ask", "a")], [("ask", "b")]]}),
+    (explained.explains, {"sessions": WOVEN, "weaving": [0, 0, 1, 1], "order": [0, 1]}),
+    (explained.explains_in, {"sessions": WOVEN, "store": STORE, "weaving": [0, 1, 0, 1], "order": [1, 0]}),
+    (explained.order_for, {"sessions": WOVEN, "weaving": [0, 1, 1, 0]}),
+    (explained.miss, {"sessions": WOVEN, "weaving": [0, 1, 0, 1], "order": [1, 0]}),
+    (explained.misses, {"sessions": WOVEN, "weaving": [0, 1, 0, 1]}),
+    (explained.is_miss, {"sessions": WOVEN, "weaving": [0, 1, 0, 1], "order": [1, 0], "value": MISSES[1, 0]}),
+    (explained.is_misses, {"sessions": WOVEN, "weaving": [0, 1, 0, 1], "value": MISSES}),
+    (explained.everywhere, {"sessions": WOVEN, "weaving": [0, 0, 1, 1]}),
+    (explained.against_all, {"sessions": WOVEN, "weaving": [0, 1, 0, 1]}),
+    (explained.is_against_all, {"sessions": WOVEN, "weaving": [0, 1, 0, 1], "value": Store(2)}),
+    (explained.first_missed, {"sessions": WOVEN}),
+    (explained.how_many_missed, {"sessions": WOVEN}),
+    (explained.order_table, {"sessions": Sessions(2, [[("ask", "a")], [("put", LOOSE)]])}),
+    (joints.joints, {"sessions": WOVEN}),
+    (joints.keeps, {"sessions": WOVEN, "weaving": [0, 1, 1, 0], "some": [(1, 0)]}),
+    (joints.are_enough, {"sessions": WOVEN, "some": [(0, 0), (1, 0)]}),
+    (joints.least_joints, {"sessions": WOVEN}),
+    (joints.cheapest_joints, {"sessions": WOVEN, "prices": JOINT_COSTS}),
+    (joints.tree_of_misses, {"sessions": WOVEN, "prices": JOINT_COSTS, "number": 1}),
+    (joints.is_tree_of_misses, {"sessions": WOVEN, "prices": JOINT_COSTS, "number": 1,
+                                "value": joints.tree_of_misses(WOVEN, JOINT_COSTS, 1)}),
+    (copies.agrees, {"kind": WINS}),
+    (copies.bears_repeats, {"kind": ODD}),
+    (copies.looks, {"kind": WINS}),
+    (copies.repeat_looks, {"kind": WINS}),
+    (copies.shows_agreement, {"kind": WINS, "value": [0, 1, 2]}),
+    (copies.shows_repeats, {"kind": WINS, "value": [0, 1, 2]}),
+    (copies.clash, {"kind": Kind.last()}),
+    (copies.echo, {"kind": ODD}),
+    (copies.is_clash, {"kind": Kind.last(), "value": ([1, 0], 0, 1, [])}),
+    (copies.is_echo, {"kind": ODD, "value": ([0], 0, [0])}),
+    (copies.greatest_together, {"kind": Kind.last()}),
+    (copies.copy_behind, {"kind": WINS, "nodes": 2, "some": [(0, (0, "a", 1)), (1, (1, "a", 1))]}),
+    (Kind, {"table": [[1, 0], [1, 1]], "counting": [True, False]}),
+    (WINS.table, {}),
+    (WINS.counting, {}),
+    (WINS.mark, {"deeds": [0, 1]}),
+    (WINS.does_count, {"deeds": [0]}),
+    (WINS.least, {}),
+    (WINS.only, {"deeds": [1, 0]}),
+    (WINS.__and__, {"other": WINS}),
+    (WINS.__or__, {"other": Kind.last()}),
+    (Saying, {"tree": ("then", "a", ("again", "B"))}),
+    (Saying.of, {"word": "abc"}),
+    (Saying.read, {"text": "(a then (again B))"}),
+    (SAY.leaves, {}),
+    (SAY.again, {}),
+    (SAY.perhaps, {}),
+    (SAY.__invert__, {}),
+    (sayings.said, {"store": STORE, "saying": SAY}),
+    (sayings.question_of, {"saying": SAY}),
+    (sayings.says_within, {"one": Saying("a"), "other": SAY}),
+    (sayings.says_alike, {"one": SAY, "other": SAY}),
+    (sayings.says_apart, {"one": SAY, "other": Saying("a")}),
     (SCENE.body, {"deed": "go"}),
     (SCENE.store_at, {"state": (0,)}),
     (SCENE.__add__, {"other": [STOP, ("stop", "go", 0)]}),
@@ -193,7 +254,8 @@ CALLS = [
     (WISH.is_granted, {"lot": LOT}),
 ]
 LIST_PARAMETERS = ("value", "rules", "others", "one", "other", "kept", "places", "answers", "secrets", "cut", "loose",
-                   "powers", "questions", "programs", "vow", "play", "weaving", "order", "deeds")
+                   "powers", "questions", "programs", "vow", "play", "weaving", "order", "deeds", "some", "table",
+                   "counting")
 
 
 def spoiled(value):
@@ -269,7 +331,7 @@ class Conventions(Case):
                 if name == "value":
                     self.is_bool(False, call(**some))
                 else:
-                    if name not in ("done", "vow"):
+                    if name not in ("done", "vow", "counting"):
                         with self.assertRaises((ValueError, LookupError)):
                             call(**some)
 

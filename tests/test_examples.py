@@ -99,15 +99,31 @@ STAGE_6 = r"""
 >>> [cheapest_play(scene, vow, prices, "rest"), least_cost(scene, vow, prices), cheapest_seals(scene, vow, prices, "rest")]
 [[('cut', ['next', 'stop'])], 2, (3, [('stop', 'cut', 1)])]
 """
-# Of this example only what speaks of weavings.
 STAGE_7 = r"""
+>>> from netkeep.copies import agrees, bears_repeats, clash, copy_behind
+>>> from netkeep.explained import first_missed, is_miss, order_for
+>>> from netkeep.joints import least_joints
+>>> from netkeep.kinds import Kind
 >>> from netkeep.weaving import Sessions, heard, marks
 >>> from netkeep.store import Store
 >>> two = Sessions(2, [[("ask", "a"), ("ask", "a")], [("put", (0, "a", 1))]])
->>> marks(two, [0, 1, 0], (0, 1))
-{(0, 'a', 1): True}
->>> heard(two, Store(2), [0, 1, 0])
-{(0, 0): [], (0, 1): [(0, 1)]}
+>>> [order_for(two, [0, 0, 1]), first_missed(two), least_joints(two), marks(two, [0, 1, 0], (0, 1))]
+[(0, 1), (0, 1, 0), [[(0, 0)]], {(0, 'a', 1): True}]
+>>> [heard(two, Store(2), [0, 1, 0]), is_miss(two, [0, 1, 0], (0, 1), ((0, 1), Store(2)))]
+[{(0, 0): [], (0, 1): [(0, 1)]}, True]
+>>> [agrees(Kind.last()), clash(Kind.last()), agrees(Kind.strike_wins()), bears_repeats(Kind.last())]
+[False, ([], 0, 1, []), True, True]
+>>> copy_behind(Kind.strike_wins(), 2, [(1, (0, "a", 1)), (0, (0, "a", 1)), (0, (1, "a", 1))])
+Store(2, [(1, 'a', 1)])
+"""
+# Of this example what speaks of sayings.
+SAYINGS = r"""
+>>> from netkeep.sayings import Saying, said
+>>> from netkeep.store import Store
+>>> fork = Store(3, [(0, "a", 1), (0, "a", 2), (1, "b", 2), (2, "b", 2)])
+>>> say = (Saying("a") | Saying("b")) * Saying("B").again()
+>>> [say.text(), said(fork, say), (~say).text()]
+['((a or b) then (again B))', [(0, 1), (0, 2), (1, 1), (1, 2), (2, 1), (2, 2)], '((again b) then (A or B))']
 """
 
 
@@ -138,8 +154,11 @@ class Examples(unittest.TestCase):
     def test_stage_6(self):
         self.run_example("stage 6", STAGE_6)
 
-    def test_stage_7_as_far_as_weavings(self):
+    def test_stage_7(self):
         self.run_example("stage 7", STAGE_7)
+
+    def test_stage_8_as_far_as_sayings(self):
+        self.run_example("sayings", SAYINGS)
 
 
 if __name__ == "__main__":

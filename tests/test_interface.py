@@ -54,6 +54,18 @@ FUNCTIONS = {
         is_tree_against(scene,vow,prices,number,value,looks='all')""",
     "weaving": """weavings(sessions) is_weaving(sessions,value) weaving_of(sessions,order)
         marks(sessions,weaving,spot=None) heard(sessions,store,weaving) behind(sessions,store,weaving)""",
+    "explained": """explains(sessions,weaving,order) explains_in(sessions,store,weaving,order) order_for(sessions,weaving)
+        miss(sessions,weaving,order) misses(sessions,weaving) is_miss(sessions,weaving,order,value)
+        is_misses(sessions,weaving,value) everywhere(sessions,weaving) against_all(sessions,weaving)
+        is_against_all(sessions,weaving,value) first_missed(sessions) how_many_missed(sessions) order_table(sessions)""",
+    "joints": """joints(sessions) keeps(sessions,weaving,some) are_enough(sessions,some) least_joints(sessions)
+        cheapest_joints(sessions,prices) tree_of_misses(sessions,prices,number)
+        is_tree_of_misses(sessions,prices,number,value)""",
+    "copies": """agrees(kind) bears_repeats(kind) looks(kind) repeat_looks(kind) shows_agreement(kind,value)
+        shows_repeats(kind,value) clash(kind) echo(kind) is_clash(kind,value) is_echo(kind,value)
+        greatest_together(kind) copy_behind(kind,nodes,some)""",
+    "sayings": """said(store,saying) question_of(saying) says_within(one,other) says_alike(one,other)
+        says_apart(one,other)""",
 }
 METHODS = {
     ("store", "Store"): """__init__(self,nodes,ties) ties(self) letters(self) goals(self,node,letter)
@@ -69,9 +81,16 @@ METHODS = {
         rules(self) body(self,deed) store_at(self,state) with_duty(self,duty) __sub__ __add__ __eq__""",
     ("weaving", "Sessions"): """__init__(self,nodes,programs) programs(self) spots(self) asks(self) touched(self)
         orders(self) __getitem__ __len__ __eq__ __repr__""",
+    ("kinds", "Kind"): """__init__(self,table,counting) last() strike_wins() table(self) counting(self) mark(self,deeds)
+        does_count(self,deeds) least(self) only(self,deeds) __and__ __or__ __len__ __eq__ __repr__""",
+    ("sayings", "Saying"): """__init__(self,tree) of(word) read(text) leaves(self) text(self) again(self) perhaps(self)
+        __mul__ __or__ __invert__ __len__ __eq__ __repr__""",
 }
 PROPERTIES = {("store", "Store"): ["nodes"], ("questions", "Question"): ["standings"],
-              ("parts", "Scene"): ["store", "duty", "first_state"], ("weaving", "Sessions"): ["nodes"]}
+              ("parts", "Scene"): ["store", "duty", "first_state"], ("weaving", "Sessions"): ["nodes"],
+              ("kinds", "Kind"): ["deed_count"], ("sayings", "Saying"): ["shape", "many_parts", "may_be_empty"]}
+STATIC = [("store", "Store", "row"), ("questions", "Question", "of"), ("kinds", "Kind", "last"),
+          ("kinds", "Kind", "strike_wins"), ("sayings", "Saying", "of"), ("sayings", "Saying", "read")]
 VALUES = {("store", "Store"): {"MOST_NODES": 40, "MOST_TIES": 400}, ("questions", "Question"): {"MOST_STANDINGS": 9},
           ("lots", "Lot"): {"MOST_WORDS": 8},
           ("weaving", "Sessions"): {"MOST_NODES": 8, "MOST_SESSIONS": 3, "MOST_LINES": 3}}
@@ -152,7 +171,8 @@ class Interface(unittest.TestCase):
                 if "(" in told:
                     plain = vars(cls)[method]
                     plain = plain.__func__ if isinstance(plain, staticmethod) else plain
-                    self.assertEqual(self.parameters(plain), told[:-1].split("(")[1].split(","), told)
+                    names = [name for name in told[:-1].split("(")[1].split(",") if name]
+                    self.assertEqual(self.parameters(plain), names, told)
 
     def test_static_methods_properties_class_values_and_defaults(self):
         for (name, known), names in PROPERTIES.items():
@@ -167,7 +187,7 @@ class Interface(unittest.TestCase):
             cls = getattr(importlib.import_module(f"netkeep.{name}"), known)
             for told, value in values.items():
                 self.assertEqual(inspect.signature(cls).parameters[told].default, value)
-        for name, known, method in (("store", "Store", "row"), ("questions", "Question", "of")):
+        for name, known, method in STATIC:
             cls = getattr(importlib.import_module(f"netkeep.{name}"), known)
             self.assertIsInstance(vars(cls)[method], staticmethod)
 
