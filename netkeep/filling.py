@@ -50,7 +50,10 @@ class Filling:
 
     def put_round(self):
         """Put in all wanted ties at once. (Each stands on a tie of the round ahead, else it would be there.)"""
-        found = self.found_now()
+        self.take_in(self.found_now())
+
+    def take_in(self, found):
+        """Put in ties at once, each with the ties that one rule takes for it."""
         self._done += 1
         for tie in found:
             x, letter, y = tie
@@ -61,7 +64,7 @@ class Filling:
         self._fresh = list(found)
 
     def found_now(self):
-        """The wanted ties, each with the ties that one rule takes for it."""
+        """The ties wanted by what came in last, each with the ties that one rule takes for it."""
         found = {}
         known = {letter: list(self._goals[letter]) for letter in LETTERS}
         for tie in self._fresh:
@@ -119,3 +122,18 @@ def trace_in(nodes, ties, rules, goal):
     if goal not in filling.rounds:
         return None
     return filling.trace([goal])
+
+
+def put_in_sequence(nodes, ties, rules, most):
+    """The ties that come in if the first wanted one, sorted, is put in again and again; refused beyond most ties."""
+    filling = Filling(nodes, ties, rules)
+    wanted = filling.found_now()
+    found = []
+    while wanted:
+        tie = min(wanted)
+        found.append(tie)
+        if len(ties) + len(found) > most:
+            raise TooMany("ties", most)
+        filling.take_in({tie: wanted.pop(tie)})
+        wanted.update(filling.found_now())
+    return found

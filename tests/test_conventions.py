@@ -4,8 +4,8 @@ import copy
 import unittest
 
 from netkeep import (
-    answers, copies, explained, filled, joints, lots, parts, plans, plays, questions, rules, sayings, secrets, stocks,
-    told, twins, upkeep, vows, weaving, within,
+    answers, code, copies, explained, filled, joints, loads, log, lots, net, parts, plans, plays, questions, registers,
+    rules, sayings, secrets, stocks, texts, told, twins, upkeep, vows, weaving, within,
 )
 from netkeep.kinds import Kind
 from netkeep.lots import Lot
@@ -45,6 +45,12 @@ MISSES = explained.misses(WOVEN, (0, 1, 0, 1))
 JOINT_COSTS = {(0, 0): 1, (1, 0): 1}
 WINS, ODD = Kind.strike_wins(), Kind([[1], [0]], [False, True])
 SAY = Saying(("then", "a", ("perhaps", "B")))
+CODE = code.Code([("load", 0, "a"), ("load", 1, "B"), ("perhaps", 1, 1), ("then", 0, 0, 1)])
+PLAN = code.Code([("keep", 0, "ab"), ("keep", 1, "b"), ("back", 0, 0, 1), ("keep", 1, "bc"), ("then", 0, 0, 1)])
+FARES = {"back": 3, "keep": 1, "then": 2}
+LOG = log.Log(["put", ("ask", "tie")])
+COMMANDS = ["keep ab", "keep b", ("put 0 a 1", "hide c"), "grant ann ab", "rule ab c", "undo"]
+NET = net.Net(Store(2), "whether", COMMANDS)
 CALLS = [
     (answers.pairs, {"store": STORE, "word": "ab"}),
     (answers.counts, {"store": STORE, "word": "ab"}),
@@ -247,6 +253,62 @@ CALLS = [
     (sayings.says_within, {"one": Saying("a"), "other": SAY}),
     (sayings.says_alike, {"one": SAY, "other": SAY}),
     (sayings.says_apart, {"one": SAY, "other": Saying("a")}),
+    (code.Code, {"lines": [("load", 0, "a"), ("then", 1, 0, 0), ("perhaps", 1, 1)]}),
+    (CODE.__add__, {"other": ("or", 0, 1, 1)}),
+    (CODE.__getitem__, {"at": 1}),
+    (CODE.lines, {}),
+    (code.run, {"code": CODE, "store": STORE}),
+    (code.run_kept, {"code": PLAN, "nodes": 2, "kept": {"ab": [(0, 0)], "b": [], "bc": [(0, 1)]}}),
+    (code.is_run, {"code": CODE, "store": Store(2, [(0, "a", 1)]), "value": [[(0, 1)], [], [(0, 0), (1, 1)], [(0, 1)]]}),
+    (code.stands_for, {"code": CODE}),
+    (code.tell_alike, {"one": CODE, "other": CODE}),
+    (registers.numbers, {"saying": SAY}),
+    (registers.number_of, {"saying": SAY}),
+    (registers.code_of, {"saying": SAY}),
+    (registers.is_code_of, {"saying": SAY, "value": CODE}),
+    (registers.in_use, {"code": CODE}),
+    (registers.fewest_registers, {"code": CODE}),
+    (registers.fullest, {"code": CODE}),
+    (registers.packed, {"code": CODE}),
+    (loads.places, {"code": PLAN, "word": "abc"}),
+    (loads.is_sure, {"code": PLAN, "word": "abc"}),
+    (loads.price, {"code": PLAN, "fares": FARES}),
+    (loads.code_of_plan, {"lot": THREE, "word": "abc"}),
+    (loads.is_code_of_plan, {"lot": THREE, "word": "abc", "value": PLAN}),
+    (loads.cheapest_price, {"lot": THREE, "word": "abc", "fares": FARES}),
+    (loads.cheapest_code, {"lot": THREE, "word": "abc", "fares": FARES}),
+    (loads.price_ranks, {"lot": THREE, "word": "abc", "fares": FARES, "number": 1}),
+    (loads.are_price_ranks, {"lot": THREE, "word": "abc", "fares": FARES, "number": 1, "value": [0, 7, 3, 10]}),
+    (texts.text_of, {"entry": STORE}),
+    (texts.text_of, {"entry": WINS}),
+    (texts.rules_text, {"rules": TURNS}),
+    (texts.read_store, {"text": "store 2\ntie 0 a 1\n"}),
+    (texts.read_question, {"text": "question 2 1\nstep 0 a 1\n"}),
+    (texts.read_rules, {"text": "rules\nrule a b\n"}),
+    (texts.read_lot, {"text": "lot a b\n"}),
+    (texts.read_kind, {"text": "kind 1\ngone 0\n"}),
+    (log.is_command_line, {"value": "put"}),
+    (log.check_of, {"line": "put"}),
+    (log.bytes_of, {"log": LOG}),
+    (log.Log, {"entries": ["put", ("ask", "tie")]}),
+    (log.Log.read, {"text": LOG.text()}),
+    (log.Log.torn, {"text": LOG.text()[:-1]}),
+    (LOG.entries, {}),
+    (LOG.lines, {}),
+    (LOG.first, {"many": 1}),
+    (LOG.parted, {"mark": "tie"}),
+    (LOG.__add__, {"other": ("sum",)}),
+    (LOG.__contains__, {"x": "ask"}),
+    (net.Net, {"store": Store(2), "telling": "many", "log": COMMANDS}),
+    (net.Net.torn, {"store": Store(2), "text": NET.log().text(), "telling": "many"}),
+    (NET.rules, {}),
+    (NET.tables, {}),
+    (NET.readers, {}),
+    (NET.secrets, {}),
+    (NET.log, {}),
+    (NET.copy, {}),
+    (NET.do, {"command": "told ab"}),
+    (NET.__call__, {"command": "ask ann ab"}),
     (SCENE.body, {"deed": "go"}),
     (SCENE.store_at, {"state": (0,)}),
     (SCENE.__add__, {"other": [STOP, ("stop", "go", 0)]}),
@@ -255,7 +317,7 @@ CALLS = [
 ]
 LIST_PARAMETERS = ("value", "rules", "others", "one", "other", "kept", "places", "answers", "secrets", "cut", "loose",
                    "powers", "questions", "programs", "vow", "play", "weaving", "order", "deeds", "some", "table",
-                   "counting")
+                   "counting", "lines", "kept")
 
 
 def spoiled(value):
@@ -280,6 +342,9 @@ def as_tuples(value):
 
 def shown(value):
     """What a value looks like, kinds of values included."""
+    if isinstance(value, net.Net):
+        told = (value.store, value.telling, value.rules(), value.tables(), value.late, value.readers(), value.secrets())
+        return f"Net({shown(told)}, {value.changes}, {value.log()})"
     if isinstance(value, Scene):
         parts = (value.store, value.loose(), [(deed, value.body(deed)) for deed in value.deeds()], value.powers())
         return repr(("Scene", *parts, value.rules(), value.duty))

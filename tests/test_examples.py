@@ -1,6 +1,8 @@
 """The examples of the interface, line by line, as they stand in the document."""
 
 import doctest
+import os
+import re
 import unittest
 
 STAGE_1 = r"""
@@ -116,14 +118,45 @@ STAGE_7 = r"""
 >>> copy_behind(Kind.strike_wins(), 2, [(1, (0, "a", 1)), (0, (0, "a", 1)), (0, (1, "a", 1))])
 Store(2, [(1, 'a', 1)])
 """
-# Of this example what speaks of sayings.
-SAYINGS = r"""
+STAGE_8 = r"""
+>>> from netkeep.code import Code, run
+>>> from netkeep.loads import is_sure, places, price
+>>> from netkeep.registers import in_use, is_code_of, numbers, packed
 >>> from netkeep.sayings import Saying, said
 >>> from netkeep.store import Store
 >>> fork = Store(3, [(0, "a", 1), (0, "a", 2), (1, "b", 2), (2, "b", 2)])
 >>> say = (Saying("a") | Saying("b")) * Saying("B").again()
->>> [say.text(), said(fork, say), (~say).text()]
-['((a or b) then (again B))', [(0, 1), (0, 2), (1, 1), (1, 2), (2, 1), (2, 2)], '((again b) then (A or B))']
+>>> [say.text(), numbers(say), said(fork, say), (~say).text()]
+['((a or b) then (again B))', [1, 1, 2, 1, 1, 2], [(0, 1), (0, 2), (1, 1), (1, 2), (2, 1), (2, 2)], '((again b) then (A or B))']
+>>> code = Code([("load", 0, "a"), ("load", 3, "b"), ("or", 5, 0, 3), ("load", 0, "B"), ("again", 0, 0), ("then", 7, 5, 0)])
+>>> [is_code_of(say, code), code.registers, in_use(code), packed(code).registers, packed(code)[5], run(code, fork)[4]]
+[True, 4, [1, 2, 1, 2, 2, 1], 2, ('then', 0, 0, 1), [(2, 1), (2, 2)]]
+>>> kept = Code([("keep", 0, "aaaa"), ("keep", 1, "aaa"), ("back", 0, 0, 1), ("keep", 1, "aaaa"), ("then", 0, 0, 1)])
+>>> [places(kept, "aaaaa"), is_sure(kept, "aaaaa"), price(kept, {"back": 3, "keep": 1, "then": 2})]
+[[[4], [3], [1], [4], [5]], True, 8]
+"""
+TEXTS = r"""
+>>> from netkeep.log import Log, check_of
+>>> from netkeep.texts import read_store, rules_text, text_of
+>>> from netkeep.store import Store
+>>> [text_of(Store.row("ab")), read_store("store 2\ntie 0 a 1\n").ties(), rules_text([("ab", "c")])]
+['store 3\ntie 0 a 1\ntie 1 b 2\n', [(0, 'a', 1)], 'rules\nrule ab c\n']
+>>> log = Log(["put", ("ask", "tie")]) + "sum"
+>>> [check_of("put"), log.lines(), len(log), log.text()]
+['502', ['put', 'ask', 'tie', 'sum'], 3, 'put 502\nall 2 539\nask 456\ntie 437\nsum 484\n']
+>>> [Log.torn(log.text()[:-1]), Log.torn(log.text()[:20])]
+[(Log(['put', ('ask', 'tie')]), 4), (Log(['put']), 1)]
+"""
+NET = r"""
+>>> from netkeep.net import Net, tried
+>>> from netkeep.store import Store
+>>> net = Net(Store(3), "whether")
+>>> net.do_all("put 1 b 2", "keep b", "keep ab", "put 0 a 1", "told ab", "late", "up")
+['done', 'done', 'done', 'done', '0-2', '0', 'acdef']
+>>> [tried(net, "strike 1 b 2", "late", "told ab"), net("hide aab"), net("grant ann ab"), net.log().entries()[-1], net.changes]
+[['done', '1', '0-2'], 'done', 'done', 'grant ann ab', 6]
+>>> Net(Store(3), "whether", net.log()) == net
+True
 """
 
 
@@ -134,6 +167,12 @@ class Examples(unittest.TestCase):
         results = doctest.DocTestRunner(verbose=False).run(example, out=told.append)
         self.assertEqual((results.failed, "".join(told)), (0, ""))
         self.assertGreater(results.attempted, 4)
+
+    def test_read_me(self):
+        with open(os.path.join(os.path.dirname(__file__), "..", "README.md"), encoding="utf-8") as file:
+            found = re.findall(r"```\n(>>> .*?)```", file.read(), re.DOTALL)
+        self.assertEqual(len(found), 1)
+        self.run_example("README", found[0])
 
     def test_stage_1(self):
         self.run_example("stage 1", STAGE_1)
@@ -157,8 +196,12 @@ class Examples(unittest.TestCase):
     def test_stage_7(self):
         self.run_example("stage 7", STAGE_7)
 
-    def test_stage_8_as_far_as_sayings(self):
-        self.run_example("sayings", SAYINGS)
+    def test_stage_8(self):
+        self.run_example("stage 8", STAGE_8)
+
+    def test_stage_9(self):
+        self.run_example("texts", TEXTS)
+        self.run_example("net", NET)
 
 
 if __name__ == "__main__":

@@ -66,6 +66,17 @@ FUNCTIONS = {
         greatest_together(kind) copy_behind(kind,nodes,some)""",
     "sayings": """said(store,saying) question_of(saying) says_within(one,other) says_alike(one,other)
         says_apart(one,other)""",
+    "code": """run(code,store) run_kept(code,nodes,kept) is_run(code,store,value) stands_for(code)
+        tell_alike(one,other)""",
+    "registers": """numbers(saying) number_of(saying) code_of(saying) is_code_of(saying,value) in_use(code)
+        fewest_registers(code) fullest(code) packed(code)""",
+    "loads": """places(code,word) is_sure(code,word) price(code,fares) code_of_plan(lot,word)
+        is_code_of_plan(lot,word,value) cheapest_price(lot,word,fares) cheapest_code(lot,word,fares)
+        price_ranks(lot,word,fares,number) are_price_ranks(lot,word,fares,number,value)""",
+    "texts": """text_of(entry) rules_text(rules) read_store(text) read_question(text) read_rules(text) read_lot(text)
+        read_kind(text)""",
+    "log": "is_command_line(value) check_of(line) bytes_of(log)",
+    "net": "tried(net,commands)",
 }
 METHODS = {
     ("store", "Store"): """__init__(self,nodes,ties) ties(self) letters(self) goals(self,node,letter)
@@ -85,18 +96,27 @@ METHODS = {
         does_count(self,deeds) least(self) only(self,deeds) __and__ __or__ __len__ __eq__ __repr__""",
     ("sayings", "Saying"): """__init__(self,tree) of(word) read(text) leaves(self) text(self) again(self) perhaps(self)
         __mul__ __or__ __invert__ __len__ __eq__ __repr__""",
+    ("code", "Code"): """__init__(self,lines) lines(self) __add__ __getitem__ __len__ __eq__ __repr__""",
+    ("log", "Log"): """__init__(self,entries) entries(self) lines(self) text(self) first(self,many) parted(self,mark)
+        read(text) torn(text) __add__ __len__ __contains__ __iter__ __eq__ __repr__""",
+    ("net", "Net"): """__init__(self,store,telling,log) torn(store,text,telling) rules(self) tables(self) readers(self)
+        secrets(self) log(self) do(self,command) do_all(self,commands) copy(self) __call__(self,command) __eq__""",
+    ("net", "Trial"): """__init__(self,net) __enter__ __exit__""",
 }
 PROPERTIES = {("store", "Store"): ["nodes"], ("questions", "Question"): ["standings"],
               ("parts", "Scene"): ["store", "duty", "first_state"], ("weaving", "Sessions"): ["nodes"],
-              ("kinds", "Kind"): ["deed_count"], ("sayings", "Saying"): ["shape", "many_parts", "may_be_empty"]}
+              ("kinds", "Kind"): ["deed_count"], ("sayings", "Saying"): ["shape", "many_parts", "may_be_empty"],
+              ("code", "Code"): ["registers", "told"], ("net", "Net"): ["store", "telling", "lot", "late", "changes"]}
 STATIC = [("store", "Store", "row"), ("questions", "Question", "of"), ("kinds", "Kind", "last"),
-          ("kinds", "Kind", "strike_wins"), ("sayings", "Saying", "of"), ("sayings", "Saying", "read")]
+          ("kinds", "Kind", "strike_wins"), ("sayings", "Saying", "of"), ("sayings", "Saying", "read"), ("log", "Log", "read"),
+          ("log", "Log", "torn"), ("net", "Net", "torn")]
 VALUES = {("store", "Store"): {"MOST_NODES": 40, "MOST_TIES": 400}, ("questions", "Question"): {"MOST_STANDINGS": 9},
           ("lots", "Lot"): {"MOST_WORDS": 8},
           ("weaving", "Sessions"): {"MOST_NODES": 8, "MOST_SESSIONS": 3, "MOST_LINES": 3}}
 DEFAULTS = {("store", "Store"): {"ties": ()}, ("lots", "Lot"): {"words": ()},
             ("stocks", "Wish"): {"questions": (), "letters": "", "secrets": ()},
-            ("parts", "Scene"): {"powers": (), "rules": (), "duty": False}}
+            ("parts", "Scene"): {"powers": (), "rules": (), "duty": False}, ("log", "Log"): {"entries": ()},
+            ("net", "Net"): {"telling": "whether", "log": ()}}
 FOLDER = os.path.dirname(netkeep.__file__)
 LIBRARY = {"math": {"gcd"}, "heapq": {"heappop", "heappush"}}
 
