@@ -39,13 +39,19 @@ def change(parts, first, told):
 
 
 def _put(parts, x, letter, y):
-    store, done = parts["store"].put((x, letter, y))
-    return _behind(parts, store, (x, letter, y), True) if done else parts, _done_or_idle(done)
+    tie = (x, letter, y)
+    store, done = parts["store"].put(tie)
+    if not done:
+        return parts, "idle"
+    return _behind(parts, store, tie, True), "done"
 
 
 def _strike(parts, x, letter, y):
-    store, done = parts["store"].strike((x, letter, y))
-    return _behind(parts, store, (x, letter, y), False) if done else parts, _done_or_idle(done)
+    tie = (x, letter, y)
+    store, done = parts["store"].strike(tie)
+    if not done:
+        return parts, "idle"
+    return _behind(parts, store, tie, False), "done"
 
 
 def _fill(parts):
@@ -67,8 +73,9 @@ def _rule(parts, word, letter):
 
 def _unrule(parts, word, letter):
     _need_rule((word, letter))
-    left = [rule for rule in parts["rules"] if rule != (word, letter)]
-    return {**parts, "rules": left}, _done_or_idle(left != parts["rules"])
+    if (word, letter) not in parts["rules"]:
+        return parts, "idle"
+    return {**parts, "rules": [rule for rule in parts["rules"] if rule != (word, letter)]}, "done"
 
 
 def _keep(parts, word):
@@ -122,10 +129,6 @@ def _show(parts, word):
     if word not in parts["secrets"]:
         raise UnknownWord(word)
     return {**parts, "secrets": [secret for secret in parts["secrets"] if secret != word]}, "done"
-
-
-def _done_or_idle(done):
-    return "done" if done else "idle"
 
 
 def _need_rule(rule):

@@ -368,6 +368,17 @@ class Commands(NetCase):
         # The net's own words give nothing away.
         self.assertEqual([net("keep ff"), net("told ff")], ["done", "none"])
 
+    def test_the_first_secret_and_the_first_reader_are_told(self):
+        net = Net(PATH, "whether", ["grant dora ab", "grant bob ab", "grant ann f", "grant cy ab", "hide cc", "hide d",
+                                    "hide ccc", "hide c"])
+        self.refused(net, "hide ab", "GivenAway", "bob")
+        self.refused(net, "hide abab", "GivenAway", "bob")
+        # Sorted as words are: the shorter one first, whatever sequence they were hidden in.
+        self.refused(net, "grant eve c", "GivenAway", "c")
+        net("show c")
+        self.refused(net, "grant ann c", "GivenAway", "cc")
+        self.assertEqual(net.secrets(), ["d", "cc", "ccc"])
+
     def test_given_away_is_told_ahead_of_too_many(self):
         words = ["a", "b", "c", "d", "e", "f", "aabb", "bbbb"]
         net = Net(PATH, "whether", [f"grant ann {word}" for word in words])
