@@ -137,7 +137,7 @@ def _text_of(entry):
 def _check(line):
     """Three figures that tell of a line whether a sign of it is another one, or two are exchanged."""
     total = sum([place * _place_of(sign) for place, sign in enumerate(line, start=1)])
-    check = total % CHECK_PRIME
+    check = int(total) % CHECK_PRIME
     return f"{check:03d}"
 
 

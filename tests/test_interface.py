@@ -163,6 +163,13 @@ def changed_in(loop):
             yield ast.unparse(node.func.value)
 
 
+def is_plainly_a_number(node):
+    """Whether an expression is `int(..)`, `len(..)` or a written number."""
+    if isinstance(node, ast.Call):
+        return isinstance(node.func, ast.Name) and node.func.id in ("int", "len")
+    return isinstance(node, ast.Constant) and type(node.value) is int
+
+
 class Interface(unittest.TestCase):
     def parameters(self, function):
         return list(inspect.signature(function).parameters)
@@ -239,6 +246,14 @@ class Files(unittest.TestCase):
                     for loop in [node for node in ast.walk(function) if isinstance(node, ast.For)]:
                         names = other_names(function, walked(loop.iter))
                         self.assertEqual(names & set(changed_in(loop)), set(), f"{name}: {function.name}")
+
+    def test_remainders_are_of_what_is_plainly_a_number(self):
+        # `log.py` makes bytes, and `%` behind a name could be a format of bytes or an operator of a class.
+        for name, text in sources():
+            for node in ast.walk(ast.parse(text)):
+                if isinstance(node, (ast.BinOp, ast.AugAssign)) and isinstance(node.op, ast.Mod):
+                    told = f"{name}: {ast.unparse(node)}"
+                    self.assertTrue(isinstance(node, ast.BinOp) and is_plainly_a_number(node.left), told)
 
     def test_imports_come_from_the_package_and_little_else(self):
         for name, text in sources():
